@@ -1,0 +1,1 @@
+"""Planehall: a kernel of plane geometry, exactly."""

@@ -1,0 +1,303 @@
+"""Which values each function takes, and what it raises for all others, in which order ([3], [4], [5])."""
+
+import inspect
+import itertools
+import unittest
+
+from planehall import columns, curves, errors, roots
+from tests.helpers import (
+    FLOOR, HALF, MINUS, NIL, ONE, POST, RING, ROOT_THREE, ROOT_TWO, STRAY, THREE, TWO, Told, kind_of, raised, spoilt,
+)
+
+BIG = 10 ** 400
+NUMBERS = (NIL, HALF, (-7, 3), ROOT_TWO, (3, -5, 1, False), (1, 0, -(10 ** 399) - 1, True))
+NO_FRACTIONS = ((2, 4), (0, 2), (1, 0), (0, 0), (1, -2), (-3, -3), (6, 3), (BIG, BIG), (1, 2, 3), (1,), (0, -1))
+NO_ROOTS = (
+    (1, 0, -4, True), (2, 4, -6, True), (-1, 0, 2, True), (0, 1, 2, True), (1, 0, 2, True), (1, 2, 1, True),
+    (1, 0, 0, False), (2, 0, -4, False), (1, 0, -2, 1), (1, 0, -2, 0), (1, 0, -2), (1, 0, -2, True, True),
+    (0, 0, -2, True), (6, 0, -3, True), (1, -3, 2, False), (0, 0, 0, True), (1, 0, -BIG, True), (3, 0, -12, True),
+)
+NO_NUMBERS = STRAY + NO_FRACTIONS + NO_ROOTS + (0, 1, -1, BIG)
+NO_FRACTION_AT_ALL = NO_NUMBERS + NUMBERS[3:]
+NO_COUNTS = STRAY + (0, -1, 10 ** 6 + 1, BIG, -BIG, (1, 1), (2, 1))
+POINTS = ((NIL, HALF), ((-1, 3), (22, 7)))
+NO_POINTS = STRAY + (
+    NIL, (NIL,), (NIL, NIL, NIL), (NIL, (2, 2)), ((1, 0), NIL), (ROOT_TWO, NIL), (NIL, ROOT_TWO), (0, 0), (1, 2),
+    [NIL, ONE], ([0, 1], ONE), (NIL, [0, 1]), ((False, 1), ONE), (ONE, (0, True)),
+)
+PLACES = POINTS + ((ROOT_TWO, NIL), (ROOT_TWO, (2, 0, -1, False)), (HALF, (1, 1, -1, True)))
+NO_PLACES = STRAY + (
+    (ROOT_TWO, ROOT_THREE), (ROOT_TWO, NIL, NIL), (ROOT_TWO,), (ROOT_TWO, (1, 0, -2, 1)), (NIL, (2, 2)), (NIL, (2, 0, -4, True)),
+    ((1, 0, -5, True), (1, 1, -3, True)), [ROOT_TWO, NIL], (list(ROOT_TWO), NIL), NIL, ROOT_TWO,
+)
+CURVES = (RING, FLOOR, POST, ("line", (-3, 2), (1, 7), (5, 6)), ("circle", (-1, 2), THREE, (1, 9)))
+NO_CURVES = STRAY + (
+    ("line", NIL, NIL, NIL), ("line", NIL, NIL, ONE), ("circle", NIL, NIL, NIL), ("circle", NIL, NIL, MINUS),
+    ("line", ROOT_TWO, ONE, NIL), ("circle", NIL, NIL, ROOT_TWO), ("Line", ONE, ONE, ONE), ("half", ONE, ONE, ONE),
+    ("disc", ONE, ONE, ONE), ("line", ONE, ONE), ("line", ONE, ONE, ONE, ONE), (ONE, ONE, ONE, ONE), ["line", ONE, ONE, ONE],
+    ("line", [1, 1], ONE, ONE), ("circle", NIL, NIL, True), ("circle", 0, 0, 1), ("line", (2, 2), ONE, ONE),
+    ("line", (True, 1), NIL, NIL), ("circle", NIL, NIL, (1, True)), ("circle", ("line", ONE, ONE), NIL, ONE),
+)
+
+
+def all_spoilt(values):
+    return [wrong for value in values for wrong in spoilt(value)]
+
+
+NUMBER = (errors.InvalidNumber, NO_NUMBERS, NUMBERS)
+FRACTION = (errors.InvalidFraction, NO_FRACTION_AT_ALL + ((-1, 1), (-1, BIG)), NUMBERS[:2])
+COUNT = (errors.InvalidCount, NO_COUNTS, ())
+POINT = (errors.InvalidPoint, NO_POINTS, POINTS)
+PLACE = (errors.InvalidPlace, NO_PLACES, PLACES)
+CURVE = (errors.InvalidCurve, NO_CURVES, CURVES)
+# Each function with its parameters: the name, a value that is let, what is raised for which others.
+TABLE = (
+    (roots.root_of, (("fraction", TWO, FRACTION),)),
+    (roots.order, (("number", ROOT_TWO, NUMBER), ("other", ROOT_THREE, NUMBER))),
+    (roots.lie_in_one, (("number", ROOT_TWO, NUMBER), ("other", ROOT_THREE, NUMBER))),
+    (roots.plus, (("number", ROOT_TWO, NUMBER), ("other", HALF, NUMBER))),
+    (roots.less, (("number", ROOT_TWO, NUMBER), ("other", HALF, NUMBER))),
+    (roots.times, (("number", ROOT_TWO, NUMBER), ("other", HALF, NUMBER))),
+    (roots.near, (("number", ROOT_TWO, NUMBER), ("many", 10, COUNT))),
+    (roots.between, (("number", ROOT_TWO, NUMBER), ("other", ROOT_THREE, NUMBER))),
+    (curves.form_of, (("curve", RING, CURVE),)),
+    (curves.sign_at, (("curve", RING, CURVE), ("place", (ROOT_TWO, NIL), PLACE))),
+    (curves.crossings, (("curve", RING, CURVE), ("second", FLOOR, CURVE))),
+    (curves.do_touch, (("curve", RING, CURVE), ("second", FLOOR, CURVE))),
+    (curves.line_through, (("point", (NIL, ONE), POINT), ("second_point", (ONE, NIL), POINT))),
+    (curves.circle_through, (
+        ("one", (NIL, ONE), POINT), ("two", (ONE, NIL), POINT), ("three", (HALF, HALF), POINT))),
+)
+ROW = (RING, FLOOR, POST, ("line", ONE, (-1, 1), NIL), ("circle", (1, 2), HALF, (9, 4)))
+# Those of curves, with the second parameter, a value that is let, the error and values that are not.
+EVENTS = 12
+ROW_TABLE = (
+    (columns.stack, "column", 0, errors.InvalidIndex, (-1, EVENTS + 1, EVENTS + 2, BIG, -BIG, (0,), (0, 1), [0], "0")),
+    (columns.sample, "column", 0, errors.InvalidIndex, (-1, EVENTS + 1, EVENTS + 2, BIG, -BIG, (0,), (0, 1), [0], "0")),
+    (columns.wall, "event", 0, errors.InvalidIndex, (-1, EVENTS, EVENTS + 1, BIG, -BIG, (0,), (0, 1), [0], "0")),
+    (columns.gap_of, "point", (NIL, HALF), errors.InvalidPoint, NO_POINTS),
+)
+INTERFACE = (
+    (roots, {
+        "is_number": "value", "root_of": "fraction", "order": "number other", "lie_in_one": "number other",
+        "plus": "number other", "less": "number other", "times": "number other", "near": "number many",
+        "between": "number other"}),
+    (curves, {
+        "is_place": "value", "is_curve": "value", "form_of": "curve", "sign_at": "curve place",
+        "crossings": "curve second", "do_touch": "curve second", "line_through": "point second_point",
+        "circle_through": "one two three"}),
+    (columns, {
+        "events": "curves", "stack": "curves column", "sample": "curves column", "wall": "curves event",
+        "gap_of": "curves point"}),
+)
+
+
+class Interface(unittest.TestCase):
+    def test_names_and_parameters(self):
+        for module, names in INTERFACE:
+            for name, parameters in names.items():
+                function = getattr(module, name)
+                self.assertEqual(function.__module__, module.__name__)
+                self.assertEqual(list(inspect.signature(function).parameters), parameters.split())
+                for parameter in inspect.signature(function).parameters.values():
+                    self.assertIs(parameter.kind, inspect.Parameter.POSITIONAL_OR_KEYWORD)
+
+    def test_position_or_name_are_one(self):
+        for function, parameters in TABLE:
+            values = [value for _, value, _ in parameters]
+            names = {name: value for name, value, _ in parameters}
+            self.assertEqual(repr(function(*values)), repr(function(**names)))
+            self.assertEqual(repr(function(*values)), repr(function(*values)))
+        for function, name, value, _, _ in ROW_TABLE:
+            self.assertEqual(repr(function(ROW, value)), repr(function(**{name: value, "curves": ROW})))
+        self.assertEqual(repr(columns.events(ROW)), repr(columns.events(curves=ROW)))
+
+
+class ArgumentErrors(Told, unittest.TestCase):
+    def test_each_wrong_value_of_each_argument(self):
+        for function, parameters in TABLE:
+            for spot, (name, _, (kind, stray, others)) in enumerate(parameters):
+                values = [value for _, value, _ in parameters]
+                names = {given: value for given, value, _ in parameters}
+                for wrong in list(stray) + all_spoilt(others) + spoilt(values[spot]) * (kind is not errors.InvalidCount):
+                    values[spot] = wrong
+                    self.assert_given(kind, wrong, function, *values)
+                    self.assert_given(kind, wrong, function, **dict(names, **{name: wrong}))
+
+    def test_what_is_let_is_taken(self):
+        for function, parameters in TABLE:
+            for spot, (_, _, (_, _, others)) in enumerate(parameters):
+                values = [value for _, value, _ in parameters]
+                for value in others:
+                    values[spot] = value
+                    error = raised(function, *values)
+                    # Only what is told of two arguments together is left: unlike fields, one point twice.
+                    if error is not None:
+                        self.assertIn(function.__name__, ("plus", "less", "times", "line_through"))
+                        self.assertIs(error.given, values[1])
+
+    def test_the_first_of_several_wrong_arguments(self):
+        for function, parameters in TABLE:
+            for which in itertools.product((False, True), repeat=len(parameters)):
+                values = [["wrong", k] if which[k] else part[1] for k, part in enumerate(parameters)]
+                if True in which:
+                    first = which.index(True)
+                    self.assert_given(parameters[first][2][0], values[first], function, *values)
+                    names = {part[0]: values[k] for k, part in enumerate(parameters)}
+                    self.assert_given(parameters[first][2][0], values[first], function, **dict(reversed(names.items())))
+
+    def test_unlike_fields_are_told_last_for_the_other_number(self):
+        for function in (roots.plus, roots.less, roots.times):
+            for number, other in (
+                (ROOT_TWO, ROOT_THREE), (ROOT_THREE, ROOT_TWO), ((1, -2, -1, True), (1, -1, -1, True)),
+                (ROOT_TWO, (1, 0, -6, False)), ((1, 0, -BIG - 1, True), (1, 0, -BIG - 2, True)),
+            ):
+                self.assert_given(errors.InvalidNumber, other, function, number, other)
+                self.assert_given(errors.InvalidNumber, other, function, other=other, number=number)
+            self.assert_given(errors.InvalidNumber, (1, 0, -4, True), function, (1, 0, -4, True), ROOT_THREE)
+            wrong = (2, 0, -6, True)
+            self.assert_given(errors.InvalidNumber, wrong, function, ROOT_TWO, wrong)
+            for other in (NIL, ONE, ROOT_TWO, (2, 0, -1, False), (1, 0, -8, True), (1, -2, -1, True)):
+                self.assertIsNone(raised(function, ROOT_TWO, other))
+                self.assertIsNone(raised(function, other, ROOT_TWO))
+
+    def test_one_point_twice_is_told_for_the_second(self):
+        first, second = (NIL, HALF), tuple([NIL, HALF])
+        self.assertIsNot(first, second)
+        self.assert_given(errors.InvalidPoint, second, curves.line_through, first, second)
+        self.assert_given(errors.InvalidPoint, second, curves.line_through, second_point=second, point=first)
+        self.assert_given(errors.InvalidPoint, "x", curves.line_through, "x", "x")
+
+    def test_fractions_below_0_have_no_root(self):
+        for wrong in ((-1, 1), (-1, 2), (-4, 9), (-BIG, 1)):
+            self.assert_given(errors.InvalidFraction, wrong, roots.root_of, wrong)
+        self.assertEqual(roots.root_of(NIL), NIL)
+
+    def test_counts(self):
+        for many in (1, 2, 10 ** 6 - 1, 10 ** 6):
+            self.assertIsNone(raised(roots.near, HALF, many))
+        for many in (0, -1, 10 ** 6 + 1, -(10 ** 6), True, False, None, "1", (1,), (1, 1), [1]):
+            self.assert_given(errors.InvalidCount, many, roots.near, HALF, many)
+
+    def test_numbers_of_nearly_one_place(self):
+        for place in PLACES:
+            self.assertIs(curves.is_place(place), True)
+        for place in NO_PLACES + tuple(all_spoilt(PLACES)):
+            self.assertIs(curves.is_place(place), False)
+
+    def test_is_number(self):
+        for number in NUMBERS + ((0, 1), (-1, 1), (BIG, 1), (1, BIG), (2, 2, -1, False), (1, 1, -1, True), (1, -1, -1, False)):
+            self.assertIs(roots.is_number(number), True, number)
+            self.assertIs(roots.is_number(value=number), True)
+        for wrong in NO_NUMBERS + tuple(all_spoilt(NUMBERS)) + POINTS + CURVES:
+            self.assertIs(roots.is_number(wrong), False, wrong)
+
+    def test_is_curve(self):
+        for curve in CURVES + (("line", TWO, NIL, NIL), ("line", NIL, MINUS, NIL), ("line", HALF, HALF, HALF)):
+            self.assertIs(curves.is_curve(curve), True)
+            self.assertIs(curves.is_curve(value=curve), True)
+        for wrong in NO_CURVES + tuple(all_spoilt(CURVES)) + NUMBERS + POINTS:
+            self.assertIs(curves.is_curve(wrong), False, wrong)
+
+
+class CurvesErrors(Told, unittest.TestCase):
+    def each(self):
+        """Each function of curves, as a function of its first argument alone."""
+        yield lambda row: columns.events(row)
+        yield lambda row: columns.events(curves=row)
+        for function, name, value, _, _ in ROW_TABLE:
+            yield lambda row: function(row, value)
+            yield lambda row: function(**{name: value, "curves": row})
+
+    def test_the_row_is_taken(self):
+        self.assertEqual(len(columns.events(ROW)), EVENTS)
+        for call in self.each():
+            self.assertIsNone(raised(call, ROW))
+
+    def test_what_is_no_tuple_or_too_long(self):
+        ten = tuple(("line", NIL, ONE, (k, 1)) for k in range(10))
+        wrong_within = (FLOOR, None) + ten[1:]
+        for call in self.each():
+            for row in (list(ROW), None, True, False, 0, "", "text", {}, set(), [], [[]], b"", object(), ten, wrong_within, list(ten)):
+                self.assert_index(None, call, row)
+        for function, _, value, _, _ in ROW_TABLE:
+            nine = ten[:9]
+            if function is not columns.wall:
+                self.assertIsNone(raised(function, nine, value))
+        self.assertEqual(columns.events(ten[:9]), ())
+
+    def test_each_part_that_is_wrong_by_itself(self):
+        for call in self.each():
+            for spot in range(len(ROW)):
+                for wrong in spoilt(ROW[spot])[:12] + list(STRAY) + [("line", NIL, NIL, ONE), ("circle", NIL, NIL, NIL)]:
+                    self.assert_index(spot, call, ROW[:spot] + (wrong,) + ROW[spot + 1:])
+        for spot in range(len(ROW)):
+            for wrong in spoilt(ROW[spot]):
+                self.assert_index(spot, columns.events, ROW[:spot] + (wrong,) + ROW[spot + 1:])
+
+    def test_what_is_no_form(self):
+        for wrong in (
+            ("line", TWO, NIL, NIL), ("line", MINUS, NIL, NIL), ("line", NIL, MINUS, ONE), ("line", HALF, NIL, ONE),
+            ("line", (-1, 1), ONE, ONE), ("line", TWO, (4, 1), (6, 1)), ("line", ONE, ONE, HALF),
+            ("line", NIL, TWO, TWO), ("line", (3, 1), (6, 1), NIL), ("line", NIL, ONE, (1, 3)), ("line", MINUS, MINUS, MINUS),
+        ):
+            self.assertTrue(curves.is_curve(wrong))
+            for call in self.each():
+                self.assert_index(2, call, (RING, POST, wrong))
+                self.assert_index(0, call, (wrong, RING))
+        for right in (("line", TWO, NIL, ONE), ("line", NIL, TWO, (-3, 1)), ("line", TWO, (-4, 1), (7, 1)), ("line", ONE, (-9, 1), NIL)):
+            for call in self.each():
+                self.assertIsNone(raised(call, (right, RING)))
+
+    def test_what_is_told_twice(self):
+        for call in self.each():
+            self.assert_index(1, call, (RING, RING))
+            self.assert_index(3, call, (RING, FLOOR, POST, ("line", NIL, ONE, NIL), RING))
+            self.assert_index(4, call, (RING, FLOOR, POST, ("line", ONE, ONE, NIL), RING))
+            self.assert_index(2, call, (RING, FLOOR, RING, None))
+            self.assert_index(1, call, (RING, None, RING))
+            self.assert_index(0, call, ("RING", None, RING))
+            self.assert_index(2, call, (FLOOR, RING, (*FLOOR[:3], (2, 2)), FLOOR))
+
+    def test_circles_with_one_middle_or_square_are_unlike(self):
+        for call in self.each():
+            self.assertIsNone(raised(call, (RING, ("circle", NIL, NIL, TWO), ("circle", ONE, NIL, ONE), ("circle", NIL, ONE, ONE))))
+
+    def test_second_arguments(self):
+        for function, name, _, kind, stray in ROW_TABLE:
+            for wrong in tuple(stray) + STRAY:
+                self.assert_given(kind, wrong, function, ROW, wrong)
+                self.assert_given(kind, wrong, function, **{name: wrong, "curves": ROW})
+
+    def test_curves_are_checked_first(self):
+        for function, _, value, _, stray in ROW_TABLE:
+            for wrong in (stray[0], None, value):
+                self.assert_index(None, function, list(ROW), wrong)
+                self.assert_index(1, function, (RING, RING), wrong)
+                self.assert_index(0, function, (None,), wrong)
+
+    def test_indexes_just_inside_and_just_outside(self):
+        for row, many in ((ROW, EVENTS), ((), 0), ((FLOOR,), 0), ((POST,), 1), ((RING,), 2)):
+            self.assertEqual(len(columns.events(row)), many)
+            for function in (columns.stack, columns.sample):
+                for column in (0, many):
+                    self.assertIsNone(raised(function, row, column))
+                for column in (-1, many + 1, -many - 1, True, False):
+                    self.assert_given(errors.InvalidIndex, column, function, row, column)
+            for event in (0, many - 1):
+                if many:
+                    self.assertIsNone(raised(columns.wall, row, event))
+            for event in (-1, many, many + 1, True, False):
+                self.assert_given(errors.InvalidIndex, event, columns.wall, row, event)
+
+    def test_kinds_of_results(self):
+        self.assertIs(kind_of(columns.events(ROW)), tuple)
+        for column in range(EVENTS + 1):
+            self.assertTrue(all(kind_of(part) is int for arc in columns.stack(ROW, column) for part in arc))
+            self.assertIs(kind_of(columns.stack(ROW, column)), tuple)
+        for event in range(EVENTS):
+            self.assertTrue(all(kind_of(lot) is tuple for lot in columns.wall(ROW, event)))
+
+
+if __name__ == "__main__":
+    unittest.main()
