@@ -1,7 +1,7 @@
 """Points, places, lines and circles, and what they have in common (DOC.md [8] and [9])."""
 
-from planehall.errors import InvalidCurve, InvalidCurves, InvalidPlace, InvalidPoint
-from planehall.meets import alike_line, common_places, form, lines_meet, side_of
+from planehall.errors import InvalidCurve, InvalidCurves, InvalidPlace, InvalidPoint, InvalidWay
+from planehall.meets import ORIGIN, alike_line, common_places, form, lines_meet, side_of
 from planehall.roots import is_fraction, is_number
 from planehall.surds import add, have_one_field, multiply, squared, subtract
 
@@ -35,6 +35,12 @@ def is_curve(value):
 def check_point(point):
     if not is_point(point):
         raise InvalidPoint(point)
+
+
+def check_way(way):
+    """Raises InvalidWay for what is no point other than (0, 0)."""
+    if not is_point(way) or way == ORIGIN:
+        raise InvalidWay(way)
 
 
 def check_place(place):

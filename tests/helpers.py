@@ -32,7 +32,8 @@ def spoilt(value):
     if isinstance(value, int):
         return [True, False, None, str(value), (value,), [value], object()]
     if isinstance(value, str):
-        return ["", value + "s", value.upper(), None, 0, True, value.encode(), (value,), [value], "disc", "half"]
+        words = [word for word in ("", "disc", "half") if word != value]
+        return words + [value + "s", value.upper(), None, 0, True, value.encode(), (value,), [value]]
     wrong = [list(value), value + value[-1:], value + (None,), value[:-1], (), None, "", 0, True, {}, (value,), [value]]
     for k, part in enumerate(value):
         wrong += [value[:k] + (bad,) + value[k + 1:] for bad in spoilt(part)]

@@ -4,7 +4,7 @@ import inspect
 import itertools
 import unittest
 
-from planehall import columns, curves, errors, roots
+from planehall import chart, columns, curves, errors, figures, leads, rimform, roots
 from tests.helpers import (
     FLOOR, HALF, MINUS, NIL, ONE, POST, RING, ROOT_THREE, ROOT_TWO, STRAY, THREE, TWO, Told, kind_of, raised, spoilt,
 )
@@ -38,6 +38,26 @@ NO_CURVES = STRAY + (
     ("line", [1, 1], ONE, ONE), ("circle", NIL, NIL, True), ("circle", 0, 0, 1), ("line", (2, 2), ONE, ONE),
     ("line", (True, 1), NIL, NIL), ("circle", NIL, NIL, (1, True)), ("circle", ("line", ONE, ONE), NIL, ONE),
 )
+LINES = (FLOOR, POST, CURVES[3], ("line", MINUS, NIL, (7, 3)))
+CIRCLES = (RING, CURVES[4])
+WAYS = POINTS + ((NIL, MINUS), (HALF, NIL))
+LEADS = ((ONE, NIL, False, (NIL, NIL)), (NIL, (-1, 2), True, (HALF, MINUS)), ((3, 5), (4, 5), False, (NIL, ONE)))
+NO_LEADS = STRAY + (
+    (NIL, NIL, False, (NIL, NIL)), (NIL, NIL, True, (ONE, ONE)), (ONE, NIL, 0, (NIL, NIL)), (ONE, NIL, False, NIL), (ONE, NIL, False),
+    (ONE, NIL, False, (NIL, NIL), ONE), (ROOT_TWO, NIL, False, (NIL, NIL)), (ONE, (2, 2), False, (NIL, NIL)), (ONE, NIL, False, (ROOT_TWO, NIL)),
+    [ONE, NIL, False, (NIL, NIL)], (ONE, NIL, False, [NIL, NIL]), (1, 0, False, (NIL, NIL)), (ONE, NIL, None, (NIL, NIL)), ONE, (ONE, NIL),
+)
+DISC, LOW = ("disc", NIL, NIL, ONE), ("half", NIL, ONE, NIL)
+FIGURES = (
+    ("all",), ("none",), DISC, LOW, ("box", (NIL, NIL), (ONE, TWO)), ("polygon", ((NIL, NIL), (ONE, NIL), (NIL, ONE))), ("join", DISC, LOW),
+    ("common", DISC, ("all",)), ("less", ("none",), LOW), ("outside", DISC), ("led", LEADS[1], LOW), ("repeat", 2, (ONE, NIL), DISC),
+)
+NO_FIGURES = STRAY + POINTS + CURVES + LEADS + (
+    ("ALL",), ("everything",), ("all", ("all",)), ("name", "a"), ("half", NIL, NIL, ONE), ("disc", NIL, NIL, NIL), ("disc", NIL, NIL, ROOT_TWO),
+    ("box", (ONE, NIL), (NIL, ONE)), ("box", (NIL, NIL), (ONE, NIL)), ("polygon", ((NIL, NIL), (NIL, ONE), (ONE, NIL))),
+    ("polygon", ((NIL, NIL), (ONE, NIL), (TWO, NIL))), ("repeat", 0, (ONE, NIL), DISC), ("repeat", 7, (ONE, NIL), DISC), ("repeat", True, (ONE, NIL), DISC),
+    ("led", (NIL, NIL, False, (NIL, NIL)), DISC), ("outside", ("outside", None)), ("join", DISC, ("disc", NIL, NIL, MINUS)), ("join", [DISC], LOW),
+)
 
 
 def all_spoilt(values):
@@ -50,6 +70,10 @@ COUNT = (errors.InvalidCount, NO_COUNTS, ())
 POINT = (errors.InvalidPoint, NO_POINTS, POINTS)
 PLACE = (errors.InvalidPlace, NO_PLACES, PLACES)
 CURVE = (errors.InvalidCurve, NO_CURVES, CURVES)
+WAY = (errors.InvalidWay, NO_POINTS + ((NIL, NIL),), WAYS)
+LEAD = (errors.InvalidLead, NO_LEADS, LEADS)
+LINE = (errors.InvalidCurve, NO_CURVES + CIRCLES, LINES)
+FIGURE = (errors.InvalidFigure, NO_FIGURES, FIGURES)
 # Each function with its parameters: the name, a value that is let, what is raised for which others.
 TABLE = (
     (roots.root_of, (("fraction", TWO, FRACTION),)),
@@ -67,15 +91,34 @@ TABLE = (
     (curves.line_through, (("point", (NIL, ONE), POINT), ("second_point", (ONE, NIL), POINT))),
     (curves.circle_through, (
         ("one", (NIL, ONE), POINT), ("two", (ONE, NIL), POINT), ("three", (HALF, HALF), POINT))),
+    (leads.led_place, (("lead", LEADS[1], LEAD), ("place", (ROOT_TWO, NIL), PLACE))),
+    (leads.led_curve, (("lead", LEADS[1], LEAD), ("curve", RING, CURVE))),
+    (leads.behind, (("lead", LEADS[1], LEAD), ("later", LEADS[2], LEAD))),
+    (leads.back, (("lead", LEADS[1], LEAD),)),
+    (leads.is_rigid, (("lead", LEADS[1], LEAD),)),
+    (leads.move, (("shift", (HALF, ONE), POINT),)),
+    (leads.turn, (("way", (HALF, ONE), WAY),)),
+    (leads.mirror, (("curve", FLOOR, LINE),)),
+    (figures.depth_of, (("figure", DISC, FIGURE),)),
+    (figures.size_of, (("figure", DISC, FIGURE),)),
+    (figures.bounds_of, (("figure", DISC, FIGURE),)),
+    (figures.curves_of, (("figure", DISC, FIGURE),)),
+    (figures.plain_of, (("figure", DISC, FIGURE),)),
+    (figures.row_of, (("figure", DISC, FIGURE), ("place", (ROOT_TWO, NIL), PLACE))),
+    (rimform.told_at, (("figure", DISC, FIGURE), ("place", (ROOT_TWO, NIL), PLACE))),
+    (rimform.rim_edges, (("figure", DISC, FIGURE),)),
+    (rimform.rim_form, (("figure", DISC, FIGURE),)),
 )
 ROW = (RING, FLOOR, POST, ("line", ONE, (-1, 1), NIL), ("circle", (1, 2), HALF, (9, 4)))
 # Those of curves, with the second parameter, a value that is let, the error and values that are not.
-EVENTS = 12
+EVENTS, CORNERS = 12, 15
 ROW_TABLE = (
     (columns.stack, "column", 0, errors.InvalidIndex, (-1, EVENTS + 1, EVENTS + 2, BIG, -BIG, (0,), (0, 1), [0], "0")),
     (columns.sample, "column", 0, errors.InvalidIndex, (-1, EVENTS + 1, EVENTS + 2, BIG, -BIG, (0,), (0, 1), [0], "0")),
     (columns.wall, "event", 0, errors.InvalidIndex, (-1, EVENTS, EVENTS + 1, BIG, -BIG, (0,), (0, 1), [0], "0")),
     (columns.gap_of, "point", (NIL, HALF), errors.InvalidPoint, NO_POINTS),
+    (chart.locate, "place", (ROOT_TWO, NIL), errors.InvalidPlace, NO_PLACES),
+    (chart.touching, "corner", 0, errors.InvalidIndex, (-1, CORNERS, CORNERS + 1, BIG, -BIG, (0,), (0, 1), [0], "0")),
 )
 INTERFACE = (
     (roots, {
@@ -89,7 +132,18 @@ INTERFACE = (
     (columns, {
         "events": "curves", "stack": "curves column", "sample": "curves column", "wall": "curves event",
         "gap_of": "curves point"}),
+    (chart, {
+        "corners": "curves", "edges": "curves", "faces": "curves", "locate": "curves place", "touching": "curves corner"}),
+    (rimform, {"told_at": "figure place", "rim_edges": "figure", "rim_form": "figure"}),
+    (leads, {
+        "is_lead": "value", "led_place": "lead place", "led_curve": "lead curve", "behind": "lead later", "back": "lead",
+        "is_rigid": "lead", "move": "shift", "turn": "way", "mirror": "curve"}),
+    (figures, {
+        "is_figure": "value", "depth_of": "figure", "size_of": "figure", "bounds_of": "figure", "curves_of": "figure",
+        "plain_of": "figure", "truth_at": "figure row", "row_of": "figure place"}),
 )
+# Those of curves alone.
+ROW_ALONE = (columns.events, chart.corners, chart.edges, chart.faces)
 
 
 class Interface(unittest.TestCase):
@@ -110,7 +164,9 @@ class Interface(unittest.TestCase):
             self.assertEqual(repr(function(*values)), repr(function(*values)))
         for function, name, value, _, _ in ROW_TABLE:
             self.assertEqual(repr(function(ROW, value)), repr(function(**{name: value, "curves": ROW})))
-        self.assertEqual(repr(columns.events(ROW)), repr(columns.events(curves=ROW)))
+        for function in ROW_ALONE:
+            self.assertEqual(repr(function(ROW)), repr(function(curves=ROW)))
+        self.assertIs(figures.truth_at(DISC, (True,)), figures.truth_at(row=(True,), figure=DISC))
 
 
 class ArgumentErrors(Told, unittest.TestCase):
@@ -200,17 +256,38 @@ class ArgumentErrors(Told, unittest.TestCase):
             self.assertIs(curves.is_curve(wrong), False, wrong)
 
 
+    def test_is_lead(self):
+        for told in LEADS:
+            self.assertIs(leads.is_lead(told), True)
+            self.assertIs(leads.is_lead(value=told), True)
+        for wrong in NO_LEADS + tuple(all_spoilt(LEADS)) + CURVES + FIGURES + PLACES:
+            self.assertIs(leads.is_lead(wrong), False, wrong)
+
+    def test_is_figure(self):
+        for figure in FIGURES:
+            self.assertIs(figures.is_figure(figure), True)
+            self.assertIs(figures.is_figure(value=figure), True)
+        for wrong in NO_FIGURES + tuple(all_spoilt(FIGURES)) + PLACES:
+            self.assertIs(figures.is_figure(wrong), False, wrong)
+
+    def test_figures_ahead_of_rows(self):
+        for wrong in NO_FIGURES + tuple(all_spoilt(FIGURES[4:8])):
+            self.assert_given(errors.InvalidFigure, wrong, figures.truth_at, wrong, (True,))
+            self.assert_given(errors.InvalidFigure, wrong, figures.truth_at, row=None, figure=wrong)
+
+
 class CurvesErrors(Told, unittest.TestCase):
     def each(self):
         """Each function of curves, as a function of its first argument alone."""
-        yield lambda row: columns.events(row)
-        yield lambda row: columns.events(curves=row)
+        for function in ROW_ALONE:
+            yield lambda row: function(row)
+            yield lambda row: function(curves=row)
         for function, name, value, _, _ in ROW_TABLE:
             yield lambda row: function(row, value)
             yield lambda row: function(**{name: value, "curves": row})
 
     def test_the_row_is_taken(self):
-        self.assertEqual(len(columns.events(ROW)), EVENTS)
+        self.assertEqual((len(columns.events(ROW)), len(chart.corners(ROW))), (EVENTS, CORNERS))
         for call in self.each():
             self.assertIsNone(raised(call, ROW))
 
@@ -222,7 +299,7 @@ class CurvesErrors(Told, unittest.TestCase):
                 self.assert_index(None, call, row)
         for function, _, value, _, _ in ROW_TABLE:
             nine = ten[:9]
-            if function is not columns.wall:
+            if function not in (columns.wall, chart.touching):
                 self.assertIsNone(raised(function, nine, value))
         self.assertEqual(columns.events(ten[:9]), ())
 
@@ -247,7 +324,7 @@ class CurvesErrors(Told, unittest.TestCase):
                 self.assert_index(0, call, (wrong, RING))
         for right in (("line", TWO, NIL, ONE), ("line", NIL, TWO, (-3, 1)), ("line", TWO, (-4, 1), (7, 1)), ("line", ONE, (-9, 1), NIL)):
             for call in self.each():
-                self.assertIsNone(raised(call, (right, RING)))
+                self.assertIsNone(raised(call, (right, RING, ("circle", ONE, NIL, ONE))))
 
     def test_what_is_told_twice(self):
         for call in self.each():
@@ -289,6 +366,15 @@ class CurvesErrors(Told, unittest.TestCase):
                     self.assertIsNone(raised(columns.wall, row, event))
             for event in (-1, many, many + 1, True, False):
                 self.assert_given(errors.InvalidIndex, event, columns.wall, row, event)
+
+    def test_corners_just_inside_and_just_outside(self):
+        for row, many in ((ROW, CORNERS), ((), 0), ((FLOOR,), 0), ((RING,), 0), ((RING, FLOOR), 2), ((FLOOR, POST), 1)):
+            self.assertEqual(len(chart.corners(row)), many)
+            for corner in (0, many - 1):
+                if many:
+                    self.assertIsNone(raised(chart.touching, row, corner))
+            for corner in (-1, many, many + 1, -many - 1, True, False):
+                self.assert_given(errors.InvalidIndex, corner, chart.touching, row, corner)
 
     def test_kinds_of_results(self):
         self.assertIs(kind_of(columns.events(ROW)), tuple)

@@ -37,6 +37,45 @@ COLUMNS = r"""
 [((-1, 1), (0, 1), (1, 1)), ((0,), (0,)), ()]
 """
 
+CHART = r"""
+>>> from planehall.chart import corners, edges, faces, locate, touching
+>>> [corners(cross), edges(cross), len(faces(cross)), locate(cross, faces(cross)[2]), locate(cross, (one, nil)), locate(cross, (root_of(two), nil)), touching(cross, 0)]
+[(((-1, 1), (0, 1)), ((1, 1), (0, 1))), ((1, None, 0, 0, 1), (0, 0, 1, 2, 0), (1, 0, 1, 2, 3), (0, 0, 1, 3, 1), (1, 1, None, 0, 1)), 4, ('face', 2), ('corner', 1), ('edge', 4), (0, 1, 2, 3)]
+>>> [edges((ring,)), len(faces((ring,))), faces(()), locate((ring,), (root_of(half), root_of(half)))] == [((0, None, None, 1, 0),), 2, faces(()), ("edge", 0)]
+True
+"""
+
+RIMFORM = r"""
+>>> from planehall.rimform import rim_edges, rim_form, told_at
+>>> disc, low = ("disc", nil, nil, one), ("half", nil, one, nil)
+>>> [told_at(disc, (nil, nil)), told_at(disc, (root_of(half), root_of(half))), told_at(("join", low, ("outside", low)), (nil, nil)), rim_edges(("common", disc, low)), rim_form(("join", low, ("outside", low)))]
+['in', 'rim', 'in', (1, 2), 'all']
+>>> rim_form(("common", disc, low))
+((('circle', (0, 1), (0, 1), (1, 1)), True, ((-1, 1), (0, 1)), ((1, 1), (0, 1))), (('line', (0, 1), (1, 1), (0, 1)), True, ((1, 1), (0, 1)), ((-1, 1), (0, 1))))
+>>> [rim_form(disc), rim_form(("outside", disc)) == ((ring, False, None, None),), rim_form(("common", disc, ("join", low, disc))) == rim_form(disc)]
+[((('circle', (0, 1), (0, 1), (1, 1)), True, None, None),), True, True]
+"""
+
+LEADS = r"""
+>>> from planehall.leads import back, behind, is_lead, is_rigid, led_curve, led_place, mirror, move, turn
+>>> start, east = (nil, nil), (one, nil)
+>>> [turn((two, one)), mirror(("line", one, nil, half)), led_place(mirror(("line", one, nil, half)), start), led_curve(move(east), ring), led_curve((two, nil, False, start), ("line", one, nil, one))]
+[((3, 5), (4, 5), False, ((0, 1), (0, 1))), ((-1, 1), (0, 1), True, ((1, 1), (0, 1))), ((1, 1), (0, 1)), ('circle', (1, 1), (0, 1), (1, 1)), ('line', (2, 1), (0, 1), (4, 1))]
+>>> [led_place(behind(turn((one, one)), move(east)), east), back(move(east)) == move((minus, nil)), is_rigid(turn((two, one))), is_rigid((two, nil, False, start)), is_lead((nil, nil, False, start))]
+[((1, 1), (1, 1)), True, True, False, False]
+"""
+
+FIGURES = r"""
+>>> from planehall.figures import bounds_of, curves_of, depth_of, is_figure, plain_of, row_of, size_of, truth_at
+>>> bowl, square = ("common", disc, low), ("box", start, (one, one))
+>>> [is_figure(square), is_figure(("box", east, east)), depth_of(bowl), size_of(square), curves_of(bowl) == cross, plain_of(("less", disc, low)), plain_of(square)]
+[True, False, 2, 4, True, ('each', ((0, True), ('not', (1, True)))), ('each', ((2, False), (3, True), (0, False), (1, True)))]
+>>> [truth_at(bowl, (True, True)), truth_at(bowl, (None, False)), truth_at(bowl, (None, True)), row_of(bowl, (half, nil)), bounds_of(("repeat", 2, east, disc))]
+[True, False, None, (True, None), (('circle', (0, 1), (0, 1), (1, 1)), ('circle', (1, 1), (0, 1), (1, 1)))]
+>>> curves_of(("repeat", 6, (two, three), square))
+raises TooMany(24)
+"""
+
 
 def cases(text):
     """The pairs of a line of code and what is told behind it, None if nothing is."""
@@ -65,11 +104,11 @@ class Examples(unittest.TestCase):
     def test_examples(self):
         # The names of one heading are used under those behind it.
         names, many = {}, 0
-        for text in (ROOTS, CURVES, COLUMNS):
+        for text in (ROOTS, CURVES, COLUMNS, CHART, RIMFORM, LEADS, FIGURES):
             for code, wanted in cases(text):
                 self.answer(code, wanted, names)
                 many += 1
-        self.assertEqual(many, 15)
+        self.assertEqual(many, 32)
 
 
 if __name__ == "__main__":
