@@ -37,7 +37,7 @@ class Forms(Told, unittest.TestCase):
     def test_what_is_a_figure(self):
         for figure in (
             ALL, NONE, LOW, DISC, SQUARE, WEDGE, BOWL, half(-3, 0, Fraction(1, 7)), half(0, Fraction(-1, 2), 0), disc(Fraction(1, 2), -3, Fraction(1, 9)),
-            box(-1, -1, Fraction(-1, 2), 3), ("join", ALL, NONE), ("less", DISC, DISC), ("outside", ALL), ("led", lead(0, 2, True, 1, 1), SQUARE),
+            box(-1, -1, Fraction(-1, 2), 3), box(-9, 3, -8, 7), box(3, -9, 7, -8), ("join", ALL, NONE), ("less", DISC, DISC), ("outside", ALL), ("led", lead(0, 2, True, 1, 1), SQUARE),
             ("repeat", 1, ORIGIN, NONE), ("repeat", 6, (ONE, (-1, 2)), DISC), ("outside", ("led", move(EAST), ("repeat", 2, EAST, BOWL))),
         ):
             self.assertIs(is_figure(figure), True)
@@ -46,6 +46,7 @@ class Forms(Told, unittest.TestCase):
     def test_halves_discs_and_boxes(self):
         for wrong in (
             half(0, 0, 1), half(0, 0, 0), disc(0, 0, 0), disc(1, 1, -1), box(0, 0, 0, 1), box(0, 0, 1, 0), box(1, 1, 0, 0), box(0, 1, 1, 1),
+            box(5, 0, 3, 9), box(0, 5, 9, 3), box(3, -9, -3, -8), box(-9, 3, -8, -3), box(2, 0, 2, 9), box(0, 2, 9, 2),
             ("half", (2, 2), ONE, ONE), ("half", ROOT_TWO, ONE, ONE), ("disc", NIL, NIL, ROOT_TWO), ("box", NIL, ONE), ("box", ORIGIN, (ONE, (2, 2))),
             ("half", ONE, ONE), ("disc", ONE, ONE, ONE, ONE), ("box", ORIGIN), ("box", (*ORIGIN, NIL), (ONE, ONE)), ("box", [NIL, NIL], (ONE, ONE)),
             ("line", ONE, ONE, ONE), ("circle", ONE, ONE, ONE), ("half", 1, 1, 1), ("half", True, ONE, ONE), ("half", ONE, (True, 1), ONE),
