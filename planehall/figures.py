@@ -10,27 +10,42 @@ MOST_SIZE = 200
 
 def is_figure(value):
     """Whether a value, whatever it is, is a figure, neither too deep nor too much."""
-    return has_form(value, MOST_DEEP) and size(value) <= MOST_SIZE and len(forms(value)) <= MOST_CURVES
+    return has_form(value, MOST_DEEP) and excess_of(value) is None
+
+
+def excess_of(figure):
+    """How great the size of a figure is, or how many curves it has, if this is too many; None otherwise."""
+    # The curves of a figure are counted only if its size is let: others may have billions of bounds.
+    many = size(figure)
+    if many <= MOST_SIZE:
+        many = len(forms(figure))
+        if many <= MOST_CURVES:
+            return None
+    return many
 
 
 def check_figure(figure):
     if not has_form(figure, MOST_DEEP):
         raise InvalidFigure(figure)
-    # The curves of a figure are counted only if its size is let: others may have billions of bounds.
-    many = size(figure)
-    if many > MOST_SIZE:
+    many = excess_of(figure)
+    if many is not None:
         raise TooMany(many)
-    many = len(forms(figure))
+
+
+def check_figures(figure, other):
+    check_figure(figure)
+    check_figure(other)
+    many = len(forms(("join", figure, other)))
     if many > MOST_CURVES:
         raise TooMany(many)
 
 
-def check_row(row, many):
-    """Raises InvalidRow for what is no tuple of so many times True, False or None."""
+def check_row(row, many, lets_none):
+    """Raises InvalidRow for what is no tuple of so many times True or False, or None if this is let."""
     if not isinstance(row, tuple) or len(row) != many:
         raise InvalidRow(None)
     for index, side in enumerate(row):
-        if side is not None and not isinstance(side, bool):
+        if not isinstance(side, bool) and (side is not None or not lets_none):
             raise InvalidRow(index)
 
 
@@ -68,7 +83,7 @@ def truth_at(figure, row):
     """The truth of a figure's plain at a row for its curves: True, False or None."""
     check_figure(figure)
     curves = forms(figure)
-    check_row(row, len(curves))
+    check_row(row, len(curves), True)
     return truth_of(plain(figure, curves), row)
 
 

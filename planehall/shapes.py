@@ -7,12 +7,13 @@ from planehall.meets import cross, form, side_of
 from planehall.roots import is_whole
 from planehall.surds import add, compared, multiply, negative, subtract
 from planehall.sweep import ascending
+from planehall.words import is_free_name
 
 MOST_COUNT = 6
 
 
-def has_form(value, deep):
-    """Whether a value, whatever it is, has the form of a figure of at most so many deep."""
+def has_form(value, deep, lets_names=False):
+    """Whether a value, whatever it is, has the form of a figure, or, with names, a sketch of at most so many deep."""
     if deep < 1 or not isinstance(value, tuple) or not value or not isinstance(value[0], str):
         return False
     match value:
@@ -27,13 +28,15 @@ def has_form(value, deep):
         case ("polygon", corners):
             return are_of_polygon(corners)
         case ("join" | "common" | "less", first, second):
-            return has_form(first, deep - 1) and has_form(second, deep - 1)
+            return has_form(first, deep - 1, lets_names) and has_form(second, deep - 1, lets_names)
         case ("outside", inner):
-            return has_form(inner, deep - 1)
+            return has_form(inner, deep - 1, lets_names)
         case ("led", lead, inner):
-            return is_lead(lead) and has_form(inner, deep - 1)
+            return is_lead(lead) and has_form(inner, deep - 1, lets_names)
         case ("repeat", count, step, inner):
-            return is_count(count) and is_point(step) and has_form(inner, deep - 1)
+            return is_count(count) and is_point(step) and has_form(inner, deep - 1, lets_names)
+        case ("name", name):
+            return lets_names and is_free_name(name)
     return False
 
 

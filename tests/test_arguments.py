@@ -4,7 +4,9 @@ import inspect
 import itertools
 import unittest
 
-from planehall import chart, columns, curves, errors, figures, leads, rimform, roots
+from planehall import (
+    chart, columns, compare, curves, errors, figures, leads, letters, meaning, models, printer, reader, rimform, roots, rows, sketches, words,
+)
 from tests.helpers import (
     FLOOR, HALF, MINUS, NIL, ONE, POST, RING, ROOT_THREE, ROOT_TWO, STRAY, THREE, TWO, Told, kind_of, raised, spoilt,
 )
@@ -58,6 +60,30 @@ NO_FIGURES = STRAY + POINTS + CURVES + LEADS + (
     ("polygon", ((NIL, NIL), (ONE, NIL), (TWO, NIL))), ("repeat", 0, (ONE, NIL), DISC), ("repeat", 7, (ONE, NIL), DISC), ("repeat", True, (ONE, NIL), DISC),
     ("led", (NIL, NIL, False, (NIL, NIL)), DISC), ("outside", ("outside", None)), ("join", DISC, ("disc", NIL, NIL, MINUS)), ("join", [DISC], LOW),
 )
+NAMES = ("a", "z", "a_1", "a_", "boxes", "lets", "x" * 24, "b0123456789_")
+NO_NAMES = tuple(value for value in STRAY if value != "line") + (
+    "all", "none", "half", "disc", "box", "polygon", "not", "move", "scale", "turn", "mirror", "lead", "flip", "repeat", "let",
+    "x" * 25, "A", "aB", "_a", "1a", "1", "_", "a-b", "a b", " a", "a ", "a.", "a#", "a\n", "\u00e4", "a\u0660", "\u00e9a", ("a",), ["a"], b"a",
+)
+NAME_A, NAME_B = ("name", "a"), ("name", "b")
+SKETCHES = FIGURES + (
+    NAME_A, ("name", "x" * 24), ("join", NAME_A, DISC), ("common", NAME_B, NAME_A), ("less", LOW, ("outside", NAME_A)), ("led", LEADS[1], NAME_A),
+    ("repeat", 6, (ONE, NIL), NAME_A),
+)
+NO_SKETCHES = tuple(value for value in NO_FIGURES if value != NAME_A) + tuple(("name", wrong) for wrong in NO_NAMES) + (
+    ("name",), ("name", "a", "b"), ("NAME", "a"), ["name", "a"], "a", ("outside", "a"), ("join", NAME_A), ("join", NAME_A, None),
+)
+BOOK = (("a", DISC), ("b", ("outside", NAME_A)))
+MOON = ((("a", DISC),), ("less", NAME_A, LOW))
+SCENES = (((), DISC), MOON, (BOOK, NAME_B), (BOOK, LOW), ((("a", DISC), ("c", NAME_A), ("b", ("join", NAME_A, ("name", "c")))), NAME_B))
+NO_BOOKS = tuple(value for value in STRAY if value != ()) + (
+    (("a", NAME_A),), (("a", NAME_B),), (("a", NAME_B), ("b", DISC)), (("a", DISC), ("a", LOW)), (("a", DISC), ("a", DISC)), (("box", DISC),), (("A", DISC),),
+    ((DISC, "a"),), (("a",),), (("a", DISC, LOW),), ("a", DISC), (("a", "disc"),), (("a", ("disc", NIL, NIL, NIL)),), [("a", DISC)], (["a", DISC],), {"a": DISC},
+    (("a", DISC), None), (("x" * 25, DISC),), (("a", DISC), ("b", ("common", NAME_A, ("name", "c")))), ((None, DISC),), (((), DISC),),
+)
+NO_SCENES = tuple((wrong, DISC) for wrong in NO_BOOKS) + tuple((BOOK, wrong) for wrong in NO_SKETCHES) + STRAY + SKETCHES + (
+    (), (BOOK,), (DISC,), (BOOK, DISC, LOW), [BOOK, DISC], (BOOK, ("name", "c")), ((), NAME_A), (DISC, BOOK), BOOK, (BOOK, ("outside", ("name", "c"))),
+)
 
 
 def all_spoilt(values):
@@ -74,6 +100,14 @@ WAY = (errors.InvalidWay, NO_POINTS + ((NIL, NIL),), WAYS)
 LEAD = (errors.InvalidLead, NO_LEADS, LEADS)
 LINE = (errors.InvalidCurve, NO_CURVES + CIRCLES, LINES)
 FIGURE = (errors.InvalidFigure, NO_FIGURES, FIGURES)
+SKETCH = (errors.InvalidSketch, NO_SKETCHES, FIGURES)
+NAME = (errors.InvalidName, NO_NAMES, ())
+SCENE = (errors.InvalidScene, NO_SCENES, ())
+ANY_FRACTION = (errors.InvalidFraction, NO_FRACTION_AT_ALL, NUMBERS[:3])
+LOW_POINT = (errors.InvalidPoint, NO_POINTS, ((MINUS, (-2, 1)),))
+HIGH = (errors.InvalidPoint, NO_POINTS + (
+    (MINUS, MINUS), (NIL, MINUS), (MINUS, NIL), (ONE, (-2, 1)), ((-2, 1), ONE), ((-3, 2), (-3, 2)), (ONE, (-1001, 1000))), ())
+LETTERS = (errors.InvalidCount, STRAY + (0, -1, 49, 50, 10 ** 6, BIG, -BIG, (1, 1)), ())
 # Each function with its parameters: the name, a value that is let, what is raised for which others.
 TABLE = (
     (roots.root_of, (("fraction", TWO, FRACTION),)),
@@ -108,6 +142,25 @@ TABLE = (
     (rimform.told_at, (("figure", DISC, FIGURE), ("place", (ROOT_TWO, NIL), PLACE))),
     (rimform.rim_edges, (("figure", DISC, FIGURE),)),
     (rimform.rim_form, (("figure", DISC, FIGURE),)),
+    (meaning.is_free, (("figure", DISC, FIGURE), ("place", (ROOT_TWO, NIL), PLACE))),
+    (meaning.telling, (("figure", DISC, FIGURE), ("place", (ROOT_TWO, NIL), PLACE))),
+    (compare.is_empty, (("figure", DISC, FIGURE),)),
+    (compare.inner_point, (("figure", DISC, FIGURE),)),
+    (compare.is_same, (("figure", DISC, FIGURE), ("other", LOW, FIGURE))),
+    (compare.parting_point, (("figure", DISC, FIGURE), ("other", LOW, FIGURE))),
+    (compare.is_within, (("figure", DISC, FIGURE), ("other", LOW, FIGURE))),
+    (compare.outer_point, (("figure", DISC, FIGURE), ("other", LOW, FIGURE))),
+    (compare.are_apart, (("figure", DISC, FIGURE), ("other", LOW, FIGURE))),
+    (compare.shared_point, (("figure", DISC, FIGURE), ("other", LOW, FIGURE))),
+    (compare.is_bounded, (("figure", DISC, FIGURE),)),
+    (compare.ray_of, (("figure", LOW, FIGURE),)),
+    (words.fraction_text, (("fraction", HALF, ANY_FRACTION),)),
+    (sketches.names_in, (("sketch", DISC, SKETCH),)),
+    (sketches.renamed, (("sketch", DISC, SKETCH), ("name", "a", NAME), ("other_name", "b", NAME))),
+    (sketches.scene_figure, (("scene", MOON, SCENE),)),
+    (printer.sketch_text, (("sketch", DISC, SKETCH),)),
+    (printer.scene_text, (("scene", MOON, SCENE),)),
+    (letters.letters, (("figure", DISC, FIGURE), ("low", (MINUS, MINUS), LOW_POINT), ("high", (ONE, ONE), HIGH), ("count", 3, LETTERS))),
 )
 ROW = (RING, FLOOR, POST, ("line", ONE, (-1, 1), NIL), ("circle", (1, 2), HALF, (9, 4)))
 # Those of curves, with the second parameter, a value that is let, the error and values that are not.
@@ -118,6 +171,7 @@ ROW_TABLE = (
     (columns.wall, "event", 0, errors.InvalidIndex, (-1, EVENTS, EVENTS + 1, BIG, -BIG, (0,), (0, 1), [0], "0")),
     (columns.gap_of, "point", (NIL, HALF), errors.InvalidPoint, NO_POINTS),
     (chart.locate, "place", (ROOT_TWO, NIL), errors.InvalidPlace, NO_PLACES),
+    (rows.rows_near, "place", (ROOT_TWO, NIL), errors.InvalidPlace, NO_PLACES),
     (chart.touching, "corner", 0, errors.InvalidIndex, (-1, CORNERS, CORNERS + 1, BIG, -BIG, (0,), (0, 1), [0], "0")),
 )
 INTERFACE = (
@@ -141,9 +195,27 @@ INTERFACE = (
     (figures, {
         "is_figure": "value", "depth_of": "figure", "size_of": "figure", "bounds_of": "figure", "curves_of": "figure",
         "plain_of": "figure", "truth_at": "figure row", "row_of": "figure place"}),
+    (rows, {
+        "rows_near": "curves place", "lone_curves": "curves", "rows_of": "curves", "point_with": "curves row", "samples_of": "curves",
+        "are_samples": "curves points"}),
+    (meaning, {"is_free": "figure place", "telling": "figure place"}),
+    (compare, {
+        "is_empty": "figure", "inner_point": "figure", "is_same": "figure other", "parting_point": "figure other", "is_within": "figure other",
+        "outer_point": "figure other", "are_apart": "figure other", "shared_point": "figure other", "is_bounded": "figure", "ray_of": "figure"}),
+    (words, {"words_of": "text", "is_free_name": "value", "fraction_text": "fraction"}),
+    (sketches, {
+        "is_sketch": "value", "is_scene": "value", "names_in": "sketch", "renamed": "sketch name other_name", "scene_figure": "scene"}),
+    (reader, {"read_sketch": "text", "read_scene": "text", "read_book": "text", "read_figure": "text"}),
+    (printer, {"sketch_text": "sketch", "book_text": "book", "scene_text": "scene"}),
+    (models, {"model_of": "book"}),
+    (letters, {"letters": "figure low high count"}),
 )
+METHODS = {
+    "put": "name sketch", "rename": "name other_name", "strike": "name", "undo": "", "redo": "", "names": "", "sketch": "name", "figure": "name",
+    "uses": "name", "used_by": "name", "scene": "name", "book": "", "steps": "",
+}
 # Those of curves alone.
-ROW_ALONE = (columns.events, chart.corners, chart.edges, chart.faces)
+ROW_ALONE = (columns.events, chart.corners, chart.edges, chart.faces, rows.lone_curves, rows.rows_of, rows.samples_of)
 
 
 class Interface(unittest.TestCase):
@@ -155,6 +227,16 @@ class Interface(unittest.TestCase):
                 self.assertEqual(list(inspect.signature(function).parameters), parameters.split())
                 for parameter in inspect.signature(function).parameters.values():
                     self.assertIs(parameter.kind, inspect.Parameter.POSITIONAL_OR_KEYWORD)
+
+    def test_methods(self):
+        self.assertEqual(list(inspect.signature(models.Model).parameters), [])
+        for name, parameters in METHODS.items():
+            method = vars(models.Model)[name]
+            self.assertTrue(inspect.isfunction(method))
+            told = inspect.signature(method).parameters
+            self.assertEqual(list(told)[1:], parameters.split())
+            for parameter in told.values():
+                self.assertIs(parameter.kind, inspect.Parameter.POSITIONAL_OR_KEYWORD)
 
     def test_position_or_name_are_one(self):
         for function, parameters in TABLE:
@@ -175,7 +257,7 @@ class ArgumentErrors(Told, unittest.TestCase):
             for spot, (name, _, (kind, stray, others)) in enumerate(parameters):
                 values = [value for _, value, _ in parameters]
                 names = {given: value for given, value, _ in parameters}
-                for wrong in list(stray) + all_spoilt(others) + spoilt(values[spot]) * (kind is not errors.InvalidCount):
+                for wrong in list(stray) + all_spoilt(others) + spoilt(values[spot]) * (kind not in (errors.InvalidCount, errors.InvalidName)):
                     values[spot] = wrong
                     self.assert_given(kind, wrong, function, *values)
                     self.assert_given(kind, wrong, function, **dict(names, **{name: wrong}))
@@ -270,6 +352,50 @@ class ArgumentErrors(Told, unittest.TestCase):
         for wrong in NO_FIGURES + tuple(all_spoilt(FIGURES)) + PLACES:
             self.assertIs(figures.is_figure(wrong), False, wrong)
 
+    def test_is_free_name(self):
+        for name in NAMES:
+            self.assertIs(words.is_free_name(name), True)
+            self.assertIs(words.is_free_name(value=name), True)
+        for wrong in NO_NAMES + NUMBERS + FIGURES:
+            self.assertIs(words.is_free_name(wrong), False, wrong)
+
+    def test_is_sketch(self):
+        for sketch in SKETCHES:
+            self.assertIs(sketches.is_sketch(sketch), True)
+            self.assertIs(sketches.is_sketch(value=sketch), True)
+        for wrong in NO_SKETCHES + tuple(all_spoilt(FIGURES)) + PLACES + SCENES:
+            self.assertIs(sketches.is_sketch(wrong), False, wrong)
+
+    def test_is_scene(self):
+        for scene in SCENES:
+            self.assertIs(sketches.is_scene(scene), True)
+            self.assertIs(sketches.is_scene(value=scene), True)
+            self.assertIsNone(raised(sketches.scene_figure, scene))
+            self.assertIsNone(raised(printer.scene_text, scene))
+        for wrong in NO_SCENES + tuple(spoilt(MOON)) + PLACES:
+            self.assertIs(sketches.is_scene(wrong), False, wrong)
+
+    def test_books(self):
+        for book in ((), BOOK, MOON[0], SCENES[-1][0]):
+            self.assertIsNone(raised(printer.book_text, book))
+            self.assertIsNone(raised(models.model_of, book=book))
+        for wrong in NO_BOOKS:
+            for call in (printer.book_text, models.model_of):
+                self.assert_given(errors.InvalidScene, wrong, call, wrong)
+                self.assert_given(errors.InvalidScene, wrong, call, book=wrong)
+
+    def test_texts(self):
+        for call in (words.words_of, reader.read_sketch, reader.read_scene, reader.read_book, reader.read_figure):
+            for wrong in [value for value in STRAY if not isinstance(value, str)] + [b"all", ["all"], ("all",), 0, 1, DISC]:
+                for error in (raised(call, wrong), raised(call, text=wrong)):
+                    self.assertIs(kind_of(error), errors.BadText)
+                    self.assertIs(error.spot, None)
+
+    def test_letters_up_to_48(self):
+        for count in (1, 2, 47, 48):
+            self.assertEqual(len(letters.letters(DISC, (NIL, NIL), (ONE, ONE), count)), count)
+            self.assertEqual(len(letters.letters(count=count, high=(ONE, ONE), low=(NIL, NIL), figure=DISC)[-1]), count)
+
     def test_figures_ahead_of_rows(self):
         for wrong in NO_FIGURES + tuple(all_spoilt(FIGURES[4:8])):
             self.assert_given(errors.InvalidFigure, wrong, figures.truth_at, wrong, (True,))
@@ -285,6 +411,9 @@ class CurvesErrors(Told, unittest.TestCase):
         for function, name, value, _, _ in ROW_TABLE:
             yield lambda row: function(row, value)
             yield lambda row: function(**{name: value, "curves": row})
+        yield lambda row: rows.point_with(row, (True,) * len(row) if isinstance(row, tuple) else None)
+        yield lambda row: rows.are_samples(row, ())
+        yield lambda row: rows.are_samples(points=None, curves=row)
 
     def test_the_row_is_taken(self):
         self.assertEqual((len(columns.events(ROW)), len(chart.corners(ROW))), (EVENTS, CORNERS))

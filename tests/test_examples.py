@@ -76,6 +76,64 @@ FIGURES = r"""
 raises TooMany(24)
 """
 
+ROWS = r"""
+>>> from planehall.rows import are_samples, lone_curves, point_with, rows_near, rows_of, samples_of
+>>> from planehall.meaning import is_free, telling
+>>> post = ("line", one, nil, one)
+>>> [rows_near(cross, east), rows_near((ring, post), east), lone_curves((ring, post)), lone_curves((ring, ("line", one, nil, two)))]
+[((False, False), (False, True), (True, False), (True, True)), ((False, False), (False, True), (True, True)), (), (0, 1)]
+>>> [rows_of((ring, post)), rows_of(()), point_with((ring, post), (True, False)), are_samples((), (start,)), are_samples(cross, ((nil, half),)), are_samples(cross, samples_of(cross))]
+[((False, False), (False, True), (True, True)), ((),), None, True, False, True]
+>>> sliver = ("common", disc, ("half", minus, nil, minus))
+>>> [telling(disc, (root_of(half), root_of(half))), telling(bowl, east), telling(sliver, east), telling(("join", low, ("outside", low)), start), is_free(bowl, east)]
+['rim', 'rim', 'out', 'in', False]
+"""
+
+COMPARE = r"""
+>>> from planehall.compare import are_apart, inner_point, is_bounded, is_empty, is_same, is_within, outer_point, parting_point, ray_of, shared_point
+>>> [is_empty(sliver), is_same(bowl, ("less", disc, ("outside", low))), parting_point(disc, bowl)[1][0] > 0, is_within(bowl, disc), are_apart(disc, ("led", move((two, nil)), disc)), shared_point(disc, low)[1][0] < 0, inner_point(sliver)]
+[True, True, True, True, True, True, None]
+>>> [is_bounded(bowl), is_bounded(low), ray_of(bowl), ray_of(low)[1][1][0] <= 0, outer_point(low, disc)[1][0] < 0]
+[True, False, None, True, True]
+"""
+
+LANGUAGE = r"""
+>>> from planehall.words import fraction_text, is_free_name, words_of
+>>> from planehall.sketches import is_scene, is_sketch, names_in, renamed, scene_figure
+>>> from planehall.reader import read_book, read_figure, read_scene, read_sketch
+>>> from planehall.printer import book_text, scene_text, sketch_text
+>>> [words_of("a - -1/2 # x"), is_free_name("a_1"), is_free_name("box"), fraction_text((-1, 2))]
+[((0, 'a'), (2, '-'), (4, '-'), (5, '1'), (6, '/'), (7, '2')), True, False, '-1/2']
+>>> moon = read_scene("let a = disc(0,0; 1); a - move(1, 2/4) a")
+>>> [scene_figure(moon) == ("less", disc, ("led", move((one, half)), disc)), names_in(moon[1]), scene_text(moon)]
+[True, ('a',), 'let a = disc(0, 0; 1);\na - move(1, 1/2) a']
+>>> [read_sketch("a | b & not c") == ("join", ("name", "a"), ("common", ("name", "b"), ("outside", ("name", "c")))), sketch_text(("common", ("join", ("name", "a"), ("name", "b")), ("less", ("name", "c"), ("name", "d"))))]
+[True, '(a | b) & (c - d)']
+>>> [read_figure("half(0, 1, 0)") == low, sketch_text(read_sketch("turn(2,1)all")), sketch_text(read_sketch("mirror(1,0,1/2)a")), is_sketch(("name", "box")), renamed(("name", "a"), "a", "b")]
+[True, 'lead(3/5, 4/5; 0, 0) all', 'flip(-1, 0; 1, 0) a', False, ('name', 'b')]
+>>> read_sketch("a | | b")
+raises BadText(4)
+>>> read_scene("let a = b; half(1/0, 0, 0")
+raises BadText(25)
+>>> read_scene("let a = b; half(1/0, 0, 0)")
+raises BadText(8)
+"""
+
+MODELS = r"""
+>>> from planehall.models import Model, model_of
+>>> model = model_of(moon[0])
+>>> [model.put("b", moon[1]), model.rename("a", "c"), [name for name, sketch in model.book()], model.sketch("b")[1], model.uses("b"), model.used_by("c"), model.steps()]
+[None, None, ['c', 'b'], ('name', 'c'), ('c',), ('b',), (2, 0)]
+>>> model.put("c", ("outside", ("name", "b")))
+raises ComesRound('c')
+"""
+
+LETTERS = r"""
+>>> from planehall.letters import letters
+>>> [letters(disc, (minus, minus), (one, one), 4), letters(low, (minus, minus), (one, one), 3)]
+[('.##.', '####', '####', '.##.'), ('...', '+++', '###')]
+"""
+
 
 def cases(text):
     """The pairs of a line of code and what is told behind it, None if nothing is."""
@@ -104,11 +162,11 @@ class Examples(unittest.TestCase):
     def test_examples(self):
         # The names of one heading are used under those behind it.
         names, many = {}, 0
-        for text in (ROOTS, CURVES, COLUMNS, CHART, RIMFORM, LEADS, FIGURES):
+        for text in (ROOTS, CURVES, COLUMNS, CHART, RIMFORM, LEADS, FIGURES, ROWS, COMPARE, LANGUAGE, MODELS, LETTERS):
             for code, wanted in cases(text):
                 self.answer(code, wanted, names)
                 many += 1
-        self.assertEqual(many, 32)
+        self.assertEqual(many, 60)
 
 
 if __name__ == "__main__":
