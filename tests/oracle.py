@@ -5,6 +5,7 @@ from fractions import Fraction
 
 from planehall.columns import events, sample
 from planehall.curves import form_of, sign_at
+from planehall.figures import curves_of, is_figure
 from planehall.roots import between, less, near, order, plus, root_of
 from tests.helpers import DIGITS, MINUS, NIL, ONE, TWO, circle, decimal, fraction, line, pair, point
 
@@ -73,6 +74,11 @@ def is_in(figure, x, y):
         u, v = [fraction(number) for number in parts[1]]
         return any(is_in(parts[2], x - k * u, y - k * v) for k in range(parts[0]))
     return is_in_plain_one(kind, parts, x, y)
+
+
+def is_in_at(figure, place):
+    """The same for a free point."""
+    return is_in(figure, fraction(place[0]), fraction(place[1]))
 
 
 def is_in_plain_one(kind, parts, x, y):
@@ -239,6 +245,14 @@ def some_figure(chance, deep):
     if kind == "repeat":
         return ("repeat", chance.randint(1, 3), point(chance.choice((-1, 0, 1, 2)), chance.randint(-1, 1)), inner)
     return ("led", some_lead(chance), inner)
+
+
+def some_right_figure(chance, deep, most=9):
+    """A figure with neither too many curves nor too great a size."""
+    while True:
+        figure = some_figure(chance, deep)
+        if is_figure(figure) and len(curves_of(figure)) <= most:
+            return figure
 
 
 def some_lead(chance):

@@ -8,31 +8,20 @@ from math import atan2, cos, pi, sin
 
 from planehall.chart import corners, edges, faces
 from planehall.curves import form_of, sign_at
-from planehall.figures import curves_of, is_figure
+from planehall.figures import curves_of
 from planehall.leads import led_place
 from planehall.rimform import rim_edges, rim_form, told_at
 from tests.helpers import (
     DIGITS, FLOOR, HALF, MINUS, NIL, ONE, POST, RING, ROOT_THREE, ROOT_TWO, TWO, Told, circle, decimal, fraction, kind_of, line,
 )
 from tests.oracle import (
-    ALL, BOWL, DISC, LOW, NONE, SLIVER, SQUARE, TWO_DISCS, TWO_HALVES, WEDGE, disc, half, is_in, lead, moved,
-    parts_in_order, some_figure, some_lead, ten_place, telling_by_bends,
+    ALL, BOWL, DISC, LOW, NONE, SLIVER, SQUARE, TWO_DISCS, TWO_HALVES, WEDGE, disc, half, is_in, is_in_at, lead, moved,
+    parts_in_order, some_lead, some_right_figure, ten_place, telling_by_bends,
 )
 
 ROOT_HALF = (2, 0, -1, True)
 ORIGIN = (NIL, NIL)
 BY_HAND = (ALL, NONE, DISC, LOW, SQUARE, WEDGE, TWO_HALVES, BOWL, SLIVER, TWO_DISCS)
-
-
-def some_right_figure(chance, deep, most=9):
-    while True:
-        figure = some_figure(chance, deep)
-        if is_figure(figure) and len(curves_of(figure)) <= most:
-            return figure
-
-
-def is_in_at(figure, place):
-    return is_in(figure, fraction(place[0]), fraction(place[1]))
 
 
 class Tellings(Told, unittest.TestCase):
