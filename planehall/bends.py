@@ -7,7 +7,7 @@ number above 0 that is left out where only signs are asked.
 
 from math import lcm
 
-from planehall.surds import over_one_root, sign_of_two
+from planehall.surds import over_one_root, sign, sign_of_two
 from planehall.sweep import ascending
 
 
@@ -80,7 +80,7 @@ def rows_along(row, through, way, r):
             bent.append((k, far, rise, sign_of_two(rise[0], rise[1], r)))
         else:
             sides[k] = sign_of_two(lean[0], lean[1], r) < 0
-    bent = ascending(bent, lambda part, other: compared_thresholds(part, other, r))
+    bent = ascending(bent, compared_thresholds)
     rows = []
     for passed in range(len(bent) + 1):
         # The value C (M . N) + G rises with C if M . N is above 0: beyond its threshold one is then outside.
@@ -90,12 +90,12 @@ def rows_along(row, through, way, r):
     return rows
 
 
-def compared_thresholds(part, other, r):
+def compared_thresholds(part, other):
     """-1, 0 or 1 as the threshold of the first curve is below, at or above that of the other one.
 
     - far / rise is the threshold, but for a factor above 0 that all have in common.
     """
     _, far, rise, rising = part
     _, second_far, second_rise, second_rising = other
-    a, b = second_far * rise[0] - far * second_rise[0], second_far * rise[1] - far * second_rise[1]
-    return sign_of_two(a, b, r) * rising * second_rising
+    # Curves with one way at a place touch there: it is their one common place, a point, so no root is left.
+    return sign(second_far * rise[0] - far * second_rise[0]) * rising * second_rising

@@ -96,14 +96,16 @@ def rays_of(curves):
         points = [(x, sample_of(heights, gap)) for gap in range(len(pairs) + 1)]
         rays += [(points[0], (NIL, MINUS)), (points[-1], (NIL, ONE))]
         if column == 0:
-            rays += [(point, (MINUS, negative(rise))) for point, rise in zip(points, rises_beside(arcs))]
+            rays += [(point, (MINUS, negative(rise))) for point, rise in zip(points[1:-1], rises_of(arcs))]
         if column == len(numbers):
-            rays += [(point, (ONE, rise)) for point, rise in zip(points, rises_beside(arcs))]
+            rays += [(point, (ONE, rise)) for point, rise in zip(points[1:-1], rises_of(arcs))]
     return rays
 
 
-def rises_beside(lines):
-    """For each gap below, between and above lines by how much one of the lines beside it rises to the right."""
-    # Going out over the first or the last column no two lines come nearer, so the way along one meets none.
-    rises = [negative(divide(line[1], line[2])) for line in lines]
-    return rises + rises[-1:] if rises else [NIL]
+def rises_of(lines):
+    """By how much each line rises to the right.
+
+    Going out over the first or the last column no two lines come nearer to one
+    another, so from between two of them the way along the lower one meets none.
+    """
+    return [negative(divide(line[1], line[2])) for line in lines]

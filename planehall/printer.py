@@ -41,8 +41,8 @@ def text_of(sketch):
         case ("box", low, high):
             return f"box({pair_text(low)}; {pair_text(high)})"
         case ("polygon", corners):
-            points = [f"({pair_text(corner)})" for corner in corners]
-            return f"polygon({', '.join(points)})"
+            points = ", ".join([f"({pair_text(corner)})" for corner in corners])
+            return f"polygon({points})"
         case ("join" | "less" | "common", first, second):
             # A common is closer than a join or less, and what stands behind a sign closer than what stands ahead.
             close = closeness(sketch)

@@ -285,6 +285,13 @@ class TooMany(Told, unittest.TestCase):
             # Both are as deep as is let, though a join of both would be deeper.
             self.assertIsNone(raised(call, deep, deep))
             self.assert_given(errors.InvalidFigure, deeper, call, deep, deeper)
+            self.assert_given(errors.InvalidFigure, deeper, call, deeper, None)
+        for call in ALONE:
+            self.assertIsNone(raised(call, deep))
+            self.assertIsNone(raised(call, great))
+            self.assertIsNone(raised(call, joined([disc(k, 0, 1) for k in range(9)])))
+            self.assert_given(errors.InvalidFigure, deeper, call, deeper)
+            self.assert_much(201, call, ("join", great, ALL))
         self.assertIs(is_same(deep, ("outside", DISC)), True)
         self.assertIs(is_bounded(deep), False)
         self.assertIs(is_within(great, SQUARE), True)

@@ -4,6 +4,7 @@ import random
 import unittest
 from fractions import Fraction
 
+from planehall import errors
 from planehall.chart import corners, faces
 from planehall.curves import sign_at
 from planehall.figures import curves_of, plain_of, truth_at
@@ -12,7 +13,7 @@ from planehall.meaning import is_free, telling
 from planehall.rimform import told_at
 from planehall.roots import plus, root_of
 from planehall.rows import rows_near
-from tests.helpers import HALF, MINUS, NIL, ONE, ROOT_TWO, TWO, Told, point
+from tests.helpers import HALF, MINUS, NIL, ONE, ROOT_TWO, TWO, Told, kind_of, point, raised
 from tests.oracle import (
     ALL, BOWL, DISC, LOW, NONE, SLIVER, SQUARE, TWO_DISCS, TWO_HALVES, WEDGE, box, disc, half, is_in_at, lead, moved, parts_in_order, polygon, some_lead,
     some_right_figure, telling_by_bends,
@@ -172,6 +173,22 @@ class Everywhere(Told, unittest.TestCase):
             deep = ("outside", deep) if k % 2 else ("join", deep, SLIVER)
         self.assertEqual(telling(deep, EAST), telling_by_bends(deep, curves_of(deep), EAST))
         self.assertEqual(plain_of(ALL), True)
+
+    def test_the_limits(self):
+        great, deep, nine = ("repeat", 5, ORIGIN, ("repeat", 5, ORIGIN, ("join", SQUARE, SQUARE))), DISC, DISC
+        for k in range(1, 9):
+            nine = ("join", nine, disc(k, 0, 1))
+        for _ in range(11):
+            deep = ("outside", deep)
+        deeper = ("outside", deep)
+        for call in (is_free, telling):
+            for figure in (great, nine, deep):
+                self.assertIsNone(raised(call, figure, EAST))
+            self.assert_given(errors.InvalidFigure, deeper, call, deeper, EAST)
+            for figure, many in ((("join", great, ALL), 201), (("less", LOW, nine), 10)):
+                error = raised(call, figure, None)
+                self.assertEqual((kind_of(error), error.given), (errors.TooMany, many))
+        self.assert_plain([telling(great, (HALF, HALF)), telling(deep, ORIGIN), telling(nine, EAST)], ["in", "out", "in"])
 
     def test_repeats_and_polygons(self):
         row = ("repeat", 3, (TWO, NIL), DISC)

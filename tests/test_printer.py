@@ -9,7 +9,7 @@ from planehall.printer import book_text, scene_text, sketch_text
 from planehall.reader import read_book, read_scene, read_sketch
 from planehall.sketches import is_scene, is_sketch, names_in
 from tests.grammar import sketch_of, some_tree, split
-from tests.helpers import HALF, MINUS, NIL, ONE, TWO, Told, kind_of, point, raised
+from tests.helpers import HALF, MINUS, NIL, ONE, TWO, Told, kind_of, raised
 from tests.oracle import ALL, DISC, LOW, NONE, SQUARE, WEDGE, box, disc, half, lead, polygon, some_figure
 
 ORIGIN = (NIL, NIL)

@@ -9,7 +9,7 @@ from planehall.printer import sketch_text
 from planehall.reader import read_book, read_figure, read_scene, read_sketch
 from planehall.sketches import is_scene, is_sketch, scene_figure
 from tests.grammar import KEPT, Machine, Writer, depth_of_tree, is_digits, sketch_of, some_tree, split, wrong_spot
-from tests.helpers import HALF, MINUS, NIL, ONE, TWO, Told, kind_of, line, point, raised
+from tests.helpers import HALF, MINUS, NIL, ONE, TWO, Told, kind_of, line, raised
 from tests.oracle import ALL, DISC, LOW, NONE, SQUARE, WEDGE, box, disc, half, lead, polygon
 
 READERS = {"sketch": read_sketch, "scene": read_scene, "book": read_book}
@@ -168,6 +168,8 @@ class Form(Spots, unittest.TestCase):
         self.assertEqual(read_sketch("(" * 24 + "a" + ")" * 24 + "|" + "(" * 24 + "b" + ")" * 24), ("join", A, B))
         self.assertEqual(read_sketch("(" * 23 + "not a & not b" + ")" * 23), ("common", ("outside", A), ("outside", B)))
         self.assert_at(read_sketch, "(" * 23 + "not ^(a)" + ")" * 23)
+        self.assert_at(read_sketch, "(a) | not b & " + "(" * 24 + "^(c)" + ")" * 24)
+        self.assert_at(read_sketch, "((a) | not (b) & " + "(" * 23 + "^not c" + ")" * 24)
         self.assertEqual(read_sketch("(" * 22 + "not (a) | not (b)" + ")" * 22), ("join", ("outside", A), ("outside", B)))
         self.assertEqual(len(read_scene("let a = " + "(" * 24 + "all" + ")" * 24 + ";" + "(" * 24 + "a" + ")" * 24)), 2)
 
