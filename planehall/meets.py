@@ -2,7 +2,7 @@
 
 from math import gcd, lcm
 
-from planehall.surds import add, compared, divide, multiply, sign_of, square_root, squared, subtract
+from planehall.surds import add, compared, divide, multiply, negative, sign_of, square_root, squared, subtract
 
 ORIGIN = ((0, 1), (0, 1))
 
@@ -48,7 +48,7 @@ def common_places(curve, second):
 
 
 def cross(a, b, c, d):
-    """a d - b c for four fractions."""
+    """a d - b c for four numbers of one field."""
     return subtract(multiply(a, d), multiply(b, c))
 
 
@@ -95,3 +95,39 @@ def alike_line(circle, second):
 def side_of(curve, place):
     """-1, 0 or 1 as a place is inside, on or outside of a curve as it is told."""
     return sign_of(value_at(curve, place))
+
+
+def dot(way, other):
+    """The product of two ways of one field."""
+    return add(multiply(way[0], other[0]), multiply(way[1], other[1]))
+
+
+def numbers_along(curve, point, way):
+    """The ascending tuple of the t at which point + t way is on a curve, () for a line that has all these places."""
+    kind, a, b, _ = curve
+    value = value_at(curve, point)
+    if kind == "line":
+        rise = dot((a, b), way)
+        return () if rise[0] == 0 else (negative(divide(value, rise)),)
+    # The value there is t t square + 2 t lean + value.
+    square, lean = dot(way, way), dot((subtract(point[0], a), subtract(point[1], b)), way)
+    room = subtract(squared(lean), multiply(square, value))
+    if room[0] < 0:
+        return ()
+    middle, step = negative(divide(lean, square)), divide(square_root(room), square)
+    return (middle,) if room[0] == 0 else (subtract(middle, step), add(middle, step))
+
+
+def compared_around(circle, place, other):
+    """-1, 0 or 1 as a place on a circle is ahead of, at or behind another one, turning left from the rightmost one."""
+    first, second = is_on_lower_half(circle, place), is_on_lower_half(circle, other)
+    if first != second:
+        return 1 if first else -1
+    side = compared(place[0], other[0])
+    return side if first else -side
+
+
+def is_on_lower_half(circle, place):
+    """Whether a place on a circle is on its lower half, or its leftmost one."""
+    side = compared(place[1], circle[2])
+    return side < 0 or (side == 0 and compared(place[0], circle[1]) < 0)

@@ -11,10 +11,9 @@ from planehall.leads import is_lead, mirror, turn
 from planehall.meets import ORIGIN
 from planehall.shapes import has_form, is_count
 from planehall.surds import reduced
-from planehall.words import DIGITS, is_free_name, words_of
+from planehall.words import are_digits, is_free_name, words_of
 
 MOST_OPEN = 24
-MOST_DIGITS = 400
 KINDS = {"|": "join", "-": "less", "&": "common"}
 PREFIXES = ("not", "move", "scale", "turn", "mirror", "lead", "flip", "repeat")
 # What stands behind each number in the brackets of a form.
@@ -255,7 +254,7 @@ def read_number(reading):
 def read_digits(reading):
     """The whole number that digits tell."""
     word = reading.word()
-    if not word or word[0] not in DIGITS or len(word) > MOST_DIGITS:
+    if not are_digits(word):
         raise BadText(reading.here())
     reading.at += 1
     return int(word)

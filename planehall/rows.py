@@ -1,19 +1,10 @@
 """Rows: on which sides of some curves free places are (DOC.md [19] to [23])."""
 
 from planehall.bends import near_rows
-from planehall.curves import check_curves, check_place, is_point
+from planehall.curves import check_curves, check_place
 from planehall.figures import check_row
-from planehall.parting import Parting, points_of_faces
-from planehall.shapes import row_at
+from planehall.papers import have_all_rows, points_by_row
 from planehall.sweep import corners_of
-
-
-def points_by_row(curves):
-    """The dict of a point for each row that free places have."""
-    found = {}
-    for point in points_of_faces(Parting(curves)):
-        found.setdefault(row_at(curves, point), point)
-    return found
 
 
 def rows_near(curves, place):
@@ -52,10 +43,4 @@ def samples_of(curves):
 def are_samples(curves, points):
     """Whether a value, whatever it is, is samples for some curves."""
     check_curves(curves)
-    if not isinstance(points, tuple) or not all([is_point(point) for point in points]):
-        return False
-    rows = {row_at(curves, point): True for point in points}
-    if [row for row in rows if None in row]:
-        return False
-    # Just the rows of free places are near corners and lone curves ([23]).
-    return all([row in rows for row in points_by_row(curves)])
+    return have_all_rows(curves, points)

@@ -12,6 +12,7 @@ KEPT_NAMES = (
     "not", "move", "scale", "turn", "mirror", "lead", "flip", "repeat", "let",
 )
 MOST_NAME_SIGNS = 24
+MOST_DIGITS = 400
 
 
 def words_of(text):
@@ -48,6 +49,11 @@ def is_free_name(value):
     if not isinstance(value, str) or not value or len(value) > MOST_NAME_SIGNS or value in KEPT_NAMES:
         return False
     return value[0] in SMALL_LETTERS and all([sign in NAME_SIGNS for sign in value])
+
+
+def are_digits(word):
+    """Whether a word is digits that tell a number: up to 400."""
+    return 0 < len(word) <= MOST_DIGITS and all([sign in DIGITS for sign in word])
 
 
 def fraction_text(fraction):
