@@ -88,6 +88,15 @@ def divide(number, fraction):
     return multiply(number, reduced(fraction[1], fraction[0]))
 
 
+def quotient(number, other):
+    """A number over another one of its field, other than 0."""
+    a, b, r, w = surd_of(other)
+    # 1 over (a + b root(r)) is (a - b root(r)) over a whole number, which is 0 for no number but 0.
+    whole = a * a - b * b * r
+    turn = 1 if whole > 0 else -1
+    return multiply(number, number_of(turn * a * w, -turn * b * w, r, turn * whole))
+
+
 def square_root(fraction):
     """The number from 0 on of which the square is a fraction from 0 on."""
     top, bottom = fraction
