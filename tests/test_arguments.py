@@ -5,7 +5,8 @@ import itertools
 import unittest
 
 from planehall import (
-    chart, columns, compare, curves, errors, figures, leads, letters, meaning, models, printer, reader, rimform, roots, rows, sketches, words,
+    certificates, chart, checker, columns, compare, console, curves, errors, figures, images, leads, letters, lines, meaning, measures, models,
+    nearest, pictures, printer, reader, rimform, rims, roots, rows, sketches, words,
 )
 from tests.helpers import (
     FLOOR, HALF, MINUS, NIL, ONE, POST, RING, ROOT_THREE, ROOT_TWO, STRAY, THREE, TWO, Told, kind_of, raised, spoilt,
@@ -108,6 +109,24 @@ LOW_POINT = (errors.InvalidPoint, NO_POINTS, ((MINUS, (-2, 1)),))
 HIGH = (errors.InvalidPoint, NO_POINTS + (
     (MINUS, MINUS), (NIL, MINUS), (MINUS, NIL), (ONE, (-2, 1)), ((-2, 1), ONE), ((-3, 2), (-3, 2)), (ONE, (-1001, 1000))), ())
 LETTERS = (errors.InvalidCount, STRAY + (0, -1, 49, 50, 10 ** 6, BIG, -BIG, (1, 1)), ())
+SQUARE = FIGURES[4]
+# Figures for which the functions that want a bounded one, with something in it, or a straight one, tell no error of their own.
+ROUND = (errors.InvalidFigure, NO_FIGURES, (DISC, SQUARE, FIGURES[5], ("common", DISC, LOW), FIGURES[11]))
+STRAIGHT = (errors.InvalidFigure, NO_FIGURES, (SQUARE, FIGURES[5], ("led", LEADS[1], SQUARE), ("repeat", 2, (ONE, NIL), SQUARE)))
+FINE = (errors.InvalidCount, STRAY + (0, -1, 5, 6, 10 ** 6, BIG, -BIG, (1, 1)), ())
+VIEWS = (((MINUS, ONE), HALF, 4, 4), ((NIL, (-22, 7)), (5, 3), 1, 48), ((ONE, ONE), (1, BIG), 48, 1))
+NO_VIEWS = STRAY + POINTS + SCENES[:1] + (
+    ((MINUS, ONE), HALF, 4), ((MINUS, ONE), HALF, 4, 4, 4), [(MINUS, ONE), HALF, 4, 4], ([MINUS, ONE], HALF, 4, 4), ((MINUS, ONE), NIL, 4, 4),
+    ((MINUS, ONE), (-1, 2), 4, 4), ((MINUS, ONE), HALF, 0, 4), ((MINUS, ONE), HALF, 4, 0), ((MINUS, ONE), HALF, 49, 4), ((MINUS, ONE), HALF, 4, 49),
+    ((MINUS, ONE), HALF, -1, 4), ((MINUS, ONE), HALF, True, 4), ((MINUS, ONE), HALF, 4, True), ((MINUS, ONE), (2, 4), 4, 4), ((MINUS, ONE), 1, 4, 4),
+    ((ROOT_TWO, ONE), HALF, 4, 4), ((MINUS, ONE), ROOT_TWO, 4, 4), ((MINUS, ONE), HALF, ONE, 4), (MINUS, ONE, HALF, 4, 4), ((MINUS, ONE), HALF, BIG, 4),
+)
+VIEW = (errors.InvalidView, NO_VIEWS, VIEWS)
+# For a view of 3 dots from left to right, 2 from above.
+FLAT_VIEW = ((NIL, NIL), ONE, 3, 2)
+ROW_INDEX = (errors.InvalidIndex, STRAY + (-1, -2, 2, 3, BIG, -BIG, (0,), ONE), ())
+COLUMN_INDEX = (errors.InvalidIndex, STRAY + (-1, -3, 3, 4, BIG, -BIG, (0,), ONE), ())
+PIECE_INDEX = (errors.InvalidIndex, STRAY + (-1, -4, 4, 5, BIG, -BIG, (0,), ONE), ())
 # Each function with its parameters: the name, a value that is let, what is raised for which others.
 TABLE = (
     (roots.root_of, (("fraction", TWO, FRACTION),)),
@@ -161,10 +180,40 @@ TABLE = (
     (printer.sketch_text, (("sketch", DISC, SKETCH),)),
     (printer.scene_text, (("scene", MOON, SCENE),)),
     (letters.letters, (("figure", DISC, FIGURE), ("low", (MINUS, MINUS), LOW_POINT), ("high", (ONE, ONE), HIGH), ("count", 3, LETTERS))),
+    (certificates.certify_telling, (("figure", DISC, FIGURE), ("place", (ROOT_TWO, NIL), PLACE))),
+    (certificates.certify_empty, (("figure", DISC, FIGURE),)),
+    (certificates.certify_same, (("figure", DISC, FIGURE), ("other", LOW, FIGURE))),
+    (certificates.certify_within, (("figure", DISC, FIGURE), ("other", LOW, FIGURE))),
+    (certificates.certify_apart, (("figure", DISC, FIGURE), ("other", LOW, FIGURE))),
+    (certificates.certify_bounded, (("figure", DISC, FIGURE),)),
+    (rims.rims, (("figure", DISC, FIGURE),)),
+    (rims.next_piece, (("figure", SQUARE, (errors.InvalidFigure, NO_FIGURES, ())), ("index", 0, PIECE_INDEX))),
+    (rims.bodies, (("figure", DISC, FIGURE),)),
+    (rims.all_bounded, (("figure", DISC, FIGURE),)),
+    (measures.straight_part, (("figure", DISC, ROUND),)),
+    (measures.area_between, (("figure", DISC, ROUND), ("many", 10, COUNT))),
+    (measures.length_between, (("figure", DISC, ROUND), ("many", 10, COUNT))),
+    (measures.angle_between, (("way", (HALF, ONE), WAY), ("other_way", (ONE, NIL), WAY), ("many", 10, COUNT))),
+    (measures.is_straight, (("figure", DISC, FIGURE),)),
+    (measures.moments, (("figure", SQUARE, STRAIGHT),)),
+    (measures.centre, (("figure", SQUARE, STRAIGHT),)),
+    (lines.walk, (("figure", DISC, FIGURE), ("point", (HALF, ONE), POINT), ("way", (ONE, NIL), WAY))),
+    (lines.first_met, (("figure", DISC, FIGURE), ("point", (TWO, NIL), POINT), ("way", (MINUS, NIL), WAY))),
+    (lines.place_at, (("point", (HALF, ONE), POINT), ("way", (ONE, NIL), WAY), ("number", ROOT_TWO, NUMBER))),
+    (lines.is_clear, (("figure", DISC, FIGURE), ("point", (TWO, NIL), POINT), ("other_point", (TWO, ONE), POINT))),
+    (nearest.gap, (("figure", DISC, FIGURE), ("point", (TWO, NIL), POINT))),
+    (nearest.nearest_place, (("figure", DISC, FIGURE), ("point", (TWO, NIL), POINT))),
+    (nearest.reach, (("figure", DISC, ROUND), ("way", (HALF, ONE), WAY))),
+    (nearest.farthest_place, (("figure", DISC, ROUND), ("way", (HALF, ONE), WAY))),
+    (nearest.box_around, (("figure", DISC, ROUND),)),
+    (pictures.dot_square, (("view", FLAT_VIEW, (errors.InvalidView, NO_VIEWS, ())), ("row", 1, ROW_INDEX), ("column", 2, COLUMN_INDEX))),
+    (pictures.dots, (("figure", DISC, FIGURE), ("view", FLAT_VIEW, VIEW))),
+    (pictures.covered, (("figure", DISC, FIGURE), ("view", FLAT_VIEW, VIEW))),
+    (pictures.picture, (("figure", DISC, FIGURE), ("view", FLAT_VIEW, VIEW), ("fine", 2, FINE))),
 )
 ROW = (RING, FLOOR, POST, ("line", ONE, (-1, 1), NIL), ("circle", (1, 2), HALF, (9, 4)))
 # Those of curves, with the second parameter, a value that is let, the error and values that are not.
-EVENTS, CORNERS = 12, 15
+EVENTS, CORNERS, FACES = 12, 15, 20
 ROW_TABLE = (
     (columns.stack, "column", 0, errors.InvalidIndex, (-1, EVENTS + 1, EVENTS + 2, BIG, -BIG, (0,), (0, 1), [0], "0")),
     (columns.sample, "column", 0, errors.InvalidIndex, (-1, EVENTS + 1, EVENTS + 2, BIG, -BIG, (0,), (0, 1), [0], "0")),
@@ -173,6 +222,9 @@ ROW_TABLE = (
     (chart.locate, "place", (ROOT_TWO, NIL), errors.InvalidPlace, NO_PLACES),
     (rows.rows_near, "place", (ROOT_TWO, NIL), errors.InvalidPlace, NO_PLACES),
     (chart.touching, "corner", 0, errors.InvalidIndex, (-1, CORNERS, CORNERS + 1, BIG, -BIG, (0,), (0, 1), [0], "0")),
+    (rims.face_rims, "face", 0, errors.InvalidIndex, (-1, FACES, FACES + 1, BIG, -BIG, (0,), (0, 1), [0], "0")),
+    (rims.face_is_bounded, "face", 0, errors.InvalidIndex, (-1, FACES, FACES + 1, BIG, -BIG, (0,), (0, 1), [0], "0")),
+    (rims.face_holes, "face", 0, errors.InvalidIndex, (-1, FACES, FACES + 1, BIG, -BIG, (0,), (0, 1), [0], "0")),
 )
 INTERFACE = (
     (roots, {
@@ -209,13 +261,36 @@ INTERFACE = (
     (printer, {"sketch_text": "sketch", "book_text": "book", "scene_text": "scene"}),
     (models, {"model_of": "book"}),
     (letters, {"letters": "figure low high count"}),
+    (console, {"run": "lines"}),
+    (checker, {"accepts": "claim paper"}),
+    (certificates, {
+        "certify_telling": "figure place", "certify_empty": "figure", "certify_same": "figure other", "certify_within": "figure other",
+        "certify_apart": "figure other", "certify_bounded": "figure", "certify_rows": "curves"}),
+    (rims, {
+        "rims": "figure", "next_piece": "figure index", "bodies": "figure", "all_bounded": "figure", "face_rims": "curves face",
+        "face_is_bounded": "curves face", "face_holes": "curves face", "round_number": "curves"}),
+    (measures, {
+        "is_roots": "value", "roots_plus": "roots other_roots", "straight_part": "figure", "area_between": "figure many",
+        "length_between": "figure many", "angle_between": "way other_way many", "is_straight": "figure", "moments": "figure", "centre": "figure"}),
+    (lines, {"walk": "figure point way", "first_met": "figure point way", "place_at": "point way number", "is_clear": "figure point other_point"}),
+    (nearest, {
+        "gap": "figure point", "nearest_place": "figure point", "reach": "figure way", "farthest_place": "figure way", "box_around": "figure"}),
+    (pictures, {
+        "is_view": "value", "is_picture": "value", "dot_square": "view row column", "dots": "figure view", "covered": "figure view",
+        "picture": "figure view fine", "picture_letters": "picture"}),
+    (images, {
+        "picture_text": "picture", "read_picture": "text", "picture_bytes": "picture", "read_bytes": "data", "check_number": "data",
+        "sum_number": "data"}),
 )
 METHODS = {
     "put": "name sketch", "rename": "name other_name", "strike": "name", "undo": "", "redo": "", "names": "", "sketch": "name", "figure": "name",
     "uses": "name", "used_by": "name", "scene": "name", "book": "", "steps": "",
 }
 # Those of curves alone.
-ROW_ALONE = (columns.events, chart.corners, chart.edges, chart.faces, rows.lone_curves, rows.rows_of, rows.samples_of)
+ROW_ALONE = (
+    columns.events, chart.corners, chart.edges, chart.faces, rows.lone_curves, rows.rows_of, rows.samples_of, certificates.certify_rows,
+    rims.round_number,
+)
 
 
 class Interface(unittest.TestCase):
@@ -352,6 +427,13 @@ class ArgumentErrors(Told, unittest.TestCase):
         for wrong in NO_FIGURES + tuple(all_spoilt(FIGURES)) + PLACES:
             self.assertIs(figures.is_figure(wrong), False, wrong)
 
+    def test_is_view(self):
+        for view in VIEWS + (FLAT_VIEW,):
+            self.assertIs(pictures.is_view(view), True)
+            self.assertIs(pictures.is_view(value=view), True)
+        for wrong in NO_VIEWS + tuple(all_spoilt(VIEWS)) + FIGURES:
+            self.assertIs(pictures.is_view(wrong), False, wrong)
+
     def test_is_free_name(self):
         for name in NAMES:
             self.assertIs(words.is_free_name(name), True)
@@ -416,7 +498,7 @@ class CurvesErrors(Told, unittest.TestCase):
         yield lambda row: rows.are_samples(points=None, curves=row)
 
     def test_the_row_is_taken(self):
-        self.assertEqual((len(columns.events(ROW)), len(chart.corners(ROW))), (EVENTS, CORNERS))
+        self.assertEqual((len(columns.events(ROW)), len(chart.corners(ROW)), len(chart.faces(ROW))), (EVENTS, CORNERS, FACES))
         for call in self.each():
             self.assertIsNone(raised(call, ROW))
 
@@ -504,6 +586,15 @@ class CurvesErrors(Told, unittest.TestCase):
                     self.assertIsNone(raised(chart.touching, row, corner))
             for corner in (-1, many, many + 1, -many - 1, True, False):
                 self.assert_given(errors.InvalidIndex, corner, chart.touching, row, corner)
+
+    def test_faces_just_inside_and_just_outside(self):
+        for row, many in ((ROW, FACES), ((), 1), ((FLOOR,), 2), ((RING, FLOOR), 4), ((FLOOR, POST), 4)):
+            self.assertEqual(len(chart.faces(row)), many)
+            for function in (rims.face_rims, rims.face_is_bounded, rims.face_holes):
+                for face in (0, many - 1):
+                    self.assertIsNone(raised(function, row, face))
+                for face in (-1, many, many + 1, -many, True, False):
+                    self.assert_given(errors.InvalidIndex, face, function, row, face)
 
     def test_kinds_of_results(self):
         self.assertIs(kind_of(columns.events(ROW)), tuple)

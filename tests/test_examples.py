@@ -130,9 +130,88 @@ raises ComesRound('c')
 
 LETTERS = r"""
 >>> from planehall.letters import letters
+>>> from planehall.console import run
 >>> [letters(disc, (minus, minus), (one, one), 4), letters(low, (minus, minus), (one, one), 3)]
 [('.##.', '####', '####', '.##.'), ('...', '+++', '###')]
+>>> run(("a = disc(0,0; 1)", "b = a - move(1, 0) a", "at b 1/2 0", "within b a", "letters a -1 -1 1 1 2", "strike a", "c = a |", "draw a"))
+('done', 'done', 'out', 'yes', '##\n##', '? InUse b', '? BadText 7', '?')
 """
+
+CERTIFICATES = r"""
+>>> from planehall.certificates import certify_bounded, certify_empty, certify_rows, certify_same, certify_telling
+>>> from planehall.checker import accepts
+>>> points = ((nil, half), (nil, (-1, 2)), (nil, two), (nil, (-2, 1)))
+>>> again = ("same", bowl, ("less", disc, ("outside", low)))
+>>> [accepts(again, points), accepts(again, points[:3]), accepts(("in", disc, start), ()), accepts(("not bounded", low), ((nil, minus), east)), accepts(7, ())]
+[True, False, True, True, False]
+>>> [accepts(("rim", disc, east), ((ring, True, (-2, 1)), (ring, True, nil))), accepts(("rim", disc, east), ((ring, True, nil), (ring, True, (-2, 1)))), certify_rows((ring,))[0][2], certify_telling(sliver, east), certify_empty(sliver)[0][0], certify_bounded(low)[0][0]]
+[True, False, ((False,), (True,)), (('out', ('common', ('disc', (0, 1), (0, 1), (1, 1)), ('half', (-1, 1), (0, 1), (-1, 1))), ((1, 1), (0, 1))), ()), 'empty', 'not bounded']
+"""
+
+RIMS = r"""
+>>> from planehall.rims import all_bounded, bodies, face_holes, face_is_bounded, face_rims, next_piece, rims, round_number
+>>> square, gem = ("box", (nil, nil), (one, one)), ("common", disc, low)
+>>> [rims(square), rims(gem), rims(low), rims(disc), rims(("all",)), next_piece(square, 0), next_piece(low, 0)]
+[((True, (0, 3, 1, 2)),), ((True, (0, 1)),), ((False, (0,)),), ((True, (0,)),), (), 3, None]
+>>> pane = ("less", ("box", (minus, minus), (three, three)), ("join", square, ("disc", two, two, half)))
+>>> [[body[1:] for body in bodies(pane)], all_bounded(pane), [body[1:] for body in bodies(("outside", disc))], [body[1:] for body in bodies(("all",))], [body[1:] for body in bodies(("join", square, ("led", (one, nil, False, (one, one)), square)))]]
+[[((0, 1, 2), True, 2)], True, [((0,), False, 1)], [((), False, 0)], [((0,), True, 0), ((1,), True, 0)]]
+>>> [face_rims(cross, 0), face_rims(cross, 2), face_is_bounded(cross, 2), face_is_bounded(cross, 0), face_holes((ring,), 0), round_number(()), round_number((ring,)), round_number(cross)]
+[(0, 1), (1, 0), True, False, 1, 1, 1, 1]
+"""
+
+MEASURES = r"""
+>>> from planehall.measures import angle_between, area_between, centre, is_roots, is_straight, length_between, moments, roots_plus, straight_part
+>>> lens, wedge = ("common", disc, ("disc", one, nil, one)), ("polygon", ((nil, nil), (one, nil), (nil, one)))
+>>> [straight_part(square), straight_part(disc), straight_part(lens), roots_plus(((-3, 4),), ((3, 1),)), roots_plus(((-3, 4),), ((3, 4),)), is_roots(((-1, 1), (4, 1)))]
+[((1, 1),), (), ((-3, 4),), ((3, 4),), (), False]
+>>> low_end, high_end = area_between(disc, 100)
+>>> [order(low_end, (22, 7)), order((3, 1), low_end), order((16, 5), high_end), area_between(square, 2)[0][0] > 0]
+[-1, -1, 1, True]
+>>> [moments(wedge), centre(square), is_straight(gem), order(length_between(square, 1000)[0], (4, 1)) < 1, order(angle_between((one, nil), (nil, one), 10)[1], (3, 2))]
+[((1, 2), ((1, 6), (1, 6)), (((1, 12), (1, 24)), ((1, 24), (1, 12)))), ((1, 2), (1, 2)), False, True, 1]
+>>> centre(disc)
+raises NotStraight()
+"""
+
+LINES = r"""
+>>> from planehall.lines import first_met, is_clear, place_at, walk
+>>> [walk(disc, (nil, half), (one, nil)), walk(square, (minus, nil), (one, nil)), walk(disc, (one, nil), (nil, one))]
+[(((4, 0, -3, False), (4, 0, -3, True)), ('out', 'rim', 'in', 'rim', 'out')), (((1, 1), (2, 1)), ('out', 'rim', 'rim', 'rim', 'out')), (((0, 1),), ('out', 'rim', 'out'))]
+>>> [first_met(disc, (nil, two), (nil, minus)), first_met(disc, (nil, two), (one, nil)), first_met(disc, (nil, nil), (one, nil)), place_at((nil, half), (one, nil), (4, 0, -3, True)), is_clear(disc, (one, one), (minus, one)), is_clear(disc, (two, two), (one, three))]
+[(1, 1), None, (0, 1), ((4, 0, -3, True), (1, 2)), False, True]
+"""
+
+NEAREST = r"""
+>>> from planehall.nearest import box_around, farthest_place, gap, nearest_place, reach
+>>> [gap(disc, (two, nil)), gap(disc, (one, one)), nearest_place(disc, (one, one)), gap(square, (three, two)), nearest_place(square, (three, two)), gap(("outside", disc), (nil, nil)), gap(("none",), (nil, nil))]
+[(1, 1), (1, -6, 1, False), ((2, 0, -1, True), (2, 0, -1, True)), (5, 1), ((1, 1), (1, 1)), (1, 1), None]
+>>> [reach(disc, (one, one)), farthest_place(square, (one, two)), box_around(lens)]
+[(1, 0, -2, True), ((1, 1), (1, 1)), ((0, 1), (1, 1), (4, 0, -3, False), (4, 0, -3, True))]
+"""
+
+PICTURES = r"""
+>>> from planehall.pictures import covered, dot_square, dots, is_picture, is_view, picture, picture_letters
+>>> near_view, wide_view = ((minus, one), half, 4, 4), ((minus, one), one, 2, 2)
+>>> [dots(disc, near_view), dots(disc, wide_view), covered(disc, near_view), covered(disc, wide_view), dot_square(near_view, 0, 3)]
+[((1, 1, 1, 1), (1, 2, 2, 1), (1, 2, 2, 1), (1, 1, 1, 1)), ((1, 1), (1, 1)), ((1, 1), (4, 1)), ((0, 1), (4, 1)), (((1, 2), (1, 2)), ((1, 1), (1, 1)))]
+>>> [dots(square, ((minus, one), one, 2, 1)), picture(disc, wide_view, 2), picture_letters(picture(disc, wide_view, 1)), picture(square, ((minus, one), one, 2, 1), 1), picture_letters(((255, 0),))]
+[((0, 2),), ((96, 96), (96, 96)), ('==', '=='), ((255, 0),), (' @',)]
+"""
+
+IMAGES = r"""
+>>> from planehall.images import check_number, picture_bytes, picture_text, read_bytes, read_picture, sum_number
+>>> [picture_text(((255, 7),)), read_picture(picture_text(((1, 2), (3, 4)))), read_bytes(picture_bytes(((255, 7),))), len(picture_bytes(((0,),))), picture_bytes(((0,),))[:8]]
+['P2\n2 1\n255\n255 7\n', ((1, 2), (3, 4)), ((255, 7),), 70, (137, 80, 78, 71, 13, 10, 26, 10)]
+>>> [check_number(()), check_number((73, 69, 78, 68)), sum_number(()), sum_number((97, 98, 99))]
+[0, 2923585666, 1, 38600999]
+>>> read_picture("P2\n2 1\n255\n256")
+raises BadText(13)
+>>> read_bytes((137, 80, 1))
+raises InvalidBytes(2)
+"""
+
+STAGES_5_AND_6 = (LETTERS, CERTIFICATES, RIMS, MEASURES, LINES, NEAREST, PICTURES, IMAGES)
 
 
 def cases(text):
@@ -162,11 +241,11 @@ class Examples(unittest.TestCase):
     def test_examples(self):
         # The names of one heading are used under those behind it.
         names, many = {}, 0
-        for text in (ROOTS, CURVES, COLUMNS, CHART, RIMFORM, LEADS, FIGURES, ROWS, COMPARE, LANGUAGE, MODELS, LETTERS):
+        for text in (ROOTS, CURVES, COLUMNS, CHART, RIMFORM, LEADS, FIGURES, ROWS, COMPARE, LANGUAGE, MODELS) + STAGES_5_AND_6:
             for code, wanted in cases(text):
                 self.answer(code, wanted, names)
                 many += 1
-        self.assertEqual(many, 60)
+        self.assertEqual(many, 96)
 
 
 if __name__ == "__main__":
