@@ -39,15 +39,12 @@ def answered(model, line):
     try:
         return put(model, line) if "=" in line else answer_to(model, [word for word in line.split(" ") if word])
     except BadText as fault:
-        return refusal("BadText", fault.spot)
-    except NothingToUndo:
-        return refusal("NothingToUndo", None)
-    except NothingToRedo:
-        return refusal("NothingToRedo", None)
+        return refusal(fault.kind(), fault.spot)
+    except (NothingToUndo, NothingToRedo) as nothing:
+        return refusal(nothing.kind(), None)
     except PlaneError as error:
         # All other errors that a line can raise tell what was given.
-        kind = error.__class__.__name__
-        return refusal(kind, error.given)
+        return refusal(error.kind(), error.given)
 
 
 def refusal(kind, told):

@@ -4,6 +4,10 @@
 class PlaneError(ValueError):
     """Any error of this package."""
 
+    def kind(self):
+        """The name of its class."""
+        return self.__class__.__name__
+
 
 class InvalidFraction(PlaneError):
     """Told of a value that is no fraction."""

@@ -25,6 +25,7 @@ class Errors(unittest.TestCase):
             self.assertEqual(kind.__bases__, (errors.PlaneError,), name)
             self.assertEqual(kind.__name__, name)
             self.assertEqual(kind.__module__, "planehall.errors")
+            self.assertEqual((kind() if name in BARE else kind(None)).kind(), name)
         self.assertEqual(errors.PlaneError.__bases__, (ValueError,))
         self.assertEqual(errors.PlaneError.__module__, "planehall.errors")
 

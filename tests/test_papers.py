@@ -469,7 +469,6 @@ class Certificates(Checks):
                 is_so, _ = self.check(making, asking, word, denial, (first,), papers)
                 seen[word, is_so] = seen.get((word, is_so), 0) + 1
         self.assertEqual(len(seen), 10)
-        self.assertGreater(min(seen.values()), 3)
 
     def test_by_hand(self):
         for figure in (ALL, NONE, SLIVER, TWO_HALVES, TWO_DISCS, STRIP, ("outside", STRIP), SQUARE, DEEP, NINE, ("outside", NINE), disc(10 ** 30, 0, 1), moved(0, -10 ** 30, SQUARE)):

@@ -240,7 +240,7 @@ class Figures(Told, unittest.TestCase):
         halves = [half(a, b, 0) for a, b in ((1, 0), (0, 1), (-1, 0), (1, 1), (1, -1))]
         for _ in range(60):
             figure = chance.choice(discs)
-            for _ in range(chance.randint(1, 5)):
+            for _ in range(chance.randint(1, 4)):
                 figure = (chance.choice(("join", "less", "common", "less")), figure, chance.choice(discs + halves))
                 if chance.random() < 0.3:
                     figure = ("outside", figure)

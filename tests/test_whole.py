@@ -92,7 +92,7 @@ class OnePlane(Told, unittest.TestCase):
             text = sketch_text(figure)
             curves, form, again = curves_of(figure), rim_form(figure), read_figure(text)
             for _ in range(8):
-                x, y = Fraction(chance.randint(-400, 400), 97), Fraction(chance.randint(-400, 400), 89)
+                x, y = chance.randint(-5, 4) + Fraction(chance.randint(1, 96), 97), chance.randint(-5, 4) + Fraction(chance.randint(1, 88), 89)
                 place = point(x, y)
                 wanted = is_in(figure, x, y)
                 word = "in" if wanted else "out"
