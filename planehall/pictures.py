@@ -37,9 +37,13 @@ def is_picture(value):
     """Whether a value, whatever it is, is a picture."""
     if not isinstance(value, tuple) or not is_side(len(value)):
         return False
-    if not all([isinstance(row, tuple) and is_side(len(row)) and len(row) == len(value[0]) for row in value]):
-        return False
-    return all([is_grey(grey) for row in value for grey in row])
+    # The first element may have no length: rows are held against each other only if all of them are rows.
+    return all([is_grey_row(row) for row in value]) and all([len(row) == len(value[0]) for row in value])
+
+
+def is_grey_row(value):
+    """Whether a value is a row that a picture may have."""
+    return isinstance(value, tuple) and is_side(len(value)) and all([is_grey(grey) for grey in value])
 
 
 def is_grey(value):

@@ -7,11 +7,12 @@ from fractions import Fraction
 from planehall import errors
 from planehall.compare import are_apart, is_within
 from planehall.figures import curves_of, is_figure
+from planehall.images import picture_bytes, picture_text
 from planehall.leads import behind, led_place, move
 from planehall.meaning import telling
 from planehall.measures import area_between
 from planehall.pictures import covered, dot_square, dots, is_picture, picture, picture_letters
-from tests.helpers import HALF, MINUS, NIL, ONE, STRAY, Told, fraction, kind_of, pair, point, raised
+from tests.helpers import HALF, MINUS, NIL, ONE, STRAY, Told, fraction, kind_of, nested, pair, point, raised
 from tests.oracle import (
     ALL, BOWL, DISC, LOW, NONE, SLIVER, SQUARE, TWO_DISCS, TWO_HALVES, WEDGE, box, disc, half, is_in, lead, moved, polygon, some_right_figure,
 )
@@ -23,6 +24,11 @@ SHADES = " .:-=+*#X@"
 NO_PICTURES = tuple(value for value in STRAY) + (
     (), ((),), ((), ()), ((1, 2), (3,)), ((1,), (2, 3)), ((256,),), ((-1,),), ((True,),), ((0, False),), ((None,),), (("1",),), ((1, (2,)),), ([1, 2],), [(1, 2)], ((1, 2), [3, 4]), ((ONE,),), (1, 2), 1,
     ((0,) * 49,), ((0,),) * 49, ((0,) * 48,) * 49, ((0,) * 49,) * 48, ((10 ** 400,),), ((1, 2), (3, 4), ()), ((1, 2), None), {(1, 2): 3}, "((1,),)", (((1,),),),
+)
+# Values that are no row of a picture: some have no length, some have the length of a row beside them, some another one.
+NO_ROWS = tuple(value for value in STRAY if value != nested(30)) + (
+    0, 1, 2, -1, 10 ** 25, -10 ** 400, "1", "12", b"12", [1], [1, 2], [[1], [2]], {1, 2}, frozenset((1, 2)), {1: 1}, {1: 1, 2: 2}, range(2), Fraction(3),
+    (1, 256), (-1, 2), (1, True), (1, None), (1, "2"), (1, (2,)), (1, [2]), (0,) * 49, nested(29),
 )
 PICTURES = (((0,),), ((255,),), ((1, 2), (3, 4)), ((0, 255, 7),), ((9,), (8,), (7,)), ((0,) * 48,) * 48, ((255,) * 48,), ((128,),) * 48)
 
@@ -68,6 +74,24 @@ class Views(Told, unittest.TestCase):
             self.assertIs(is_picture(wrong), False, wrong)
             self.assert_given(errors.InvalidPicture, wrong, picture_letters, wrong)
             self.assert_given(errors.InvalidPicture, wrong, picture_letters, picture=wrong)
+
+    def test_what_is_no_row_at_any_place(self):
+        """Ahead of, between and behind rows, and beside others that are no rows, of any kind."""
+        for wrong in NO_ROWS:
+            for value in (
+                (wrong,), (wrong, (1,)), (wrong, (1, 2)), (wrong, (1, 2), (3, 4)), ((1, 2), wrong), ((1,), wrong), ((1, 2), wrong, (3, 4)), ((1, 2), (3, 4), wrong),
+                (wrong, wrong), (wrong, wrong, (1, 2)), (wrong, (0,) * 48), (wrong,) + ((7,),) * 47,
+            ):
+                self.assert_no_picture(value)
+        for wrong in NO_ROWS:
+            for other in NO_ROWS:
+                self.assert_no_picture((wrong, other))
+                self.assert_no_picture((wrong, other, (1, 2)))
+
+    def assert_no_picture(self, value):
+        self.assertIs(is_picture(value), False, value)
+        for call in (picture_letters, picture_text, picture_bytes):
+            self.assert_given(errors.InvalidPicture, value, call, value)
 
     def test_letters_of_all_greys(self):
         for grey in range(256):
